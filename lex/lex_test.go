@@ -37,7 +37,7 @@ func TestTokens(t *testing.T) {
 		"1..2":                          "21 4.. 22",
 		"1...5":                         "21 4.. 4. 25",
 		"0":                             "20",
-		"0.0 00.50 10":                  "30.0 300.50 210",
+		"0.0 0.50 10":                   "30.0 30.50 210",
 		"if iff If":                     "1if 0iff 0If",
 		"bv0 bv1 bv64 bv65 bv01 bv100":  "0bv0 1bv1 1bv64 0bv65 0bv01 0bv100",
 		"bv bv9 bv10 BV8":               "0bv 1bv9 1bv10 0BV8",
@@ -54,6 +54,7 @@ func TestTokens(t *testing.T) {
 		"a&&&b|||c>>>d<<<e":             "0a 4&& 4& 0b 4|| 4| 0c 4>> 4> 0d 4<< 4< 0e",
 		"abcdefghijklmnopqrstuvwx(":     "0abcdefghijklmnopqrstuvwx 4(",
 		"Abcdefghijklmnopqrstuvwx::b_3": "0Abcdefghijklmnopqrstuvwx::b_3",
+		"A::Abcdefghijklmnopqrstuvwx":   "0A::Abcdefghijklmnopqrstuvwx",
 		"/*\xff\x00$*/ a //\xc3":        "0a",
 	} {
 		l, at, e := Tokens(s)
@@ -84,6 +85,8 @@ func TestTokenErrors(t *testing.T) {
 		e  api.Errno
 	}{
 		"03":                                {0, api.ErrSyntax},
+		"03.5":                              {0, api.ErrSyntax},
+		"a 00.0":                            {2, api.ErrSyntax},
 		"x 00":                              {2, api.ErrSyntax},
 		"3x":                                {0, api.ErrSyntax},
 		"a 3_":                              {2, api.ErrSyntax},
@@ -169,6 +172,27 @@ func TestNames(t *testing.T) {
 			!want[0] && want[1] && (module+"::"+name != s || e != api.OK),
 			!want[1] && (module != "" || name != "" || e != api.ErrName):
 			t.Errorf("Split(%q): %q, %q, %d", s, module, name, e)
+		}
+	}
+}
+
+// TestNameBytes is for P3.1 and P3.2: which bytes begin a word, and which go on.
+func TestNameBytes(t *testing.T) {
+	const letters, others = "abcdefghijklmnopqrstuvwxyzABCDEFGHIJKLMNOPQRSTUVWXYZ", "0123456789_"
+	for c := range 256 {
+		one, two := string([]byte{byte(c)}), string([]byte{'q', byte(c)})
+		begins := strings.Contains(letters, one)
+		goes := begins || strings.Contains(others, one)
+		l, _, e := Tokens(one)
+		if IsName(one) != begins || begins != (e == api.OK && len(l) == 1 && l[0].Kind == Name) {
+			t.Errorf("%q: %v, %v, %d", one, IsName(one), l, e)
+		}
+		l, _, e = Tokens(two)
+		if IsName(two) != goes || goes != (e == api.OK && len(l) == 1 && l[0].Text == two) {
+			t.Errorf("%q: %v, %v, %d", two, IsName(two), l, e)
+		}
+		if upper := begins && c < 'a'; IsGlobal(one+"::x") != upper {
+			t.Errorf("%q is a module: %v", one, !upper)
 		}
 	}
 }
@@ -275,7 +299,7 @@ func TestJoinErrors(t *testing.T) {
 		{[]Token{{Kind: -1, Text: "x"}}, api.ErrKind}, {[]Token{{Kind: 5, Text: "$"}}, api.ErrKind}, {[]Token{good, {Kind: Name}, {Kind: 9}}, api.ErrForm}, {[]Token{good, {Kind: 9}, {Kind: Name}}, api.ErrKind},
 		{[]Token{{Kind: Name, Text: "if"}}, api.ErrForm}, {[]Token{{Kind: Keyword, Text: "x"}}, api.ErrForm}, {[]Token{{Kind: Keyword, Text: "bv65"}}, api.ErrForm}, {[]Token{{Kind: Name, Text: " x"}}, api.ErrForm},
 		{[]Token{{Kind: Name, Text: "x "}}, api.ErrForm}, {[]Token{{Kind: Name, Text: "x//"}}, api.ErrForm}, {[]Token{{Kind: Name, Text: "/**/x"}}, api.ErrForm}, {[]Token{{Kind: Name, Text: "x y"}}, api.ErrForm}, {[]Token{{Kind: Name, Text: "m::x"}}, api.ErrForm},
-		{[]Token{{Kind: Number, Text: "03"}}, api.ErrForm}, {[]Token{{Kind: Number, Text: "1.5"}}, api.ErrForm}, {[]Token{{Kind: Decimal, Text: "1"}}, api.ErrForm}, {[]Token{{Kind: Decimal, Text: "1."}}, api.ErrForm}, {[]Token{{Kind: Number, Text: "-1"}}, api.ErrForm},
+		{[]Token{{Kind: Number, Text: "03"}}, api.ErrForm}, {[]Token{{Kind: Number, Text: "1.5"}}, api.ErrForm}, {[]Token{{Kind: Decimal, Text: "01.5"}}, api.ErrForm}, {[]Token{{Kind: Decimal, Text: "1"}}, api.ErrForm}, {[]Token{{Kind: Decimal, Text: "1."}}, api.ErrForm}, {[]Token{{Kind: Number, Text: "-1"}}, api.ErrForm},
 		{[]Token{{Kind: Sign, Text: "$"}}, api.ErrForm}, {[]Token{{Kind: Sign, Text: "//"}}, api.ErrForm}, {[]Token{{Kind: Sign, Text: "<=="}}, api.ErrForm}, {[]Token{{Kind: Name, Text: strings.Repeat("x", 25)}}, api.ErrForm},
 		{[]Token{{Kind: Number, Text: digits + "1"}}, api.ErrForm}, {[]Token{{Kind: Number, Text: digits}}, api.OK}, {[]Token{{Kind: Number, Text: digits}, good}, api.ErrLong}, {[]Token{{Kind: Number, Text: digits}, good, {Kind: 7}}, api.ErrKind},
 		{many, api.ErrMany}, {many[1:], api.ErrForm},

@@ -166,20 +166,17 @@ func (s scanner) decimal(text string) (int, api.Errno) {
 	if whole == 0 || !found || decimals == 0 {
 		return 0, api.OK
 	}
-	return ended(text, whole+len(".")+decimals)
+	return checkDigits(text, whole, whole+len(".")+decimals)
 }
 
 func (s scanner) number(text string) (int, api.Errno) {
 	size := countDigits(text)
-	if size > 1 && text[0] == '0' {
-		return 0, api.ErrSyntax
-	}
-	return ended(text, size)
+	return checkDigits(text, size, size)
 }
 
-// ended returns the size of the digits at the start of a text, which no letter and no underscore may follow.
-func ended(text string, size int) (int, api.Errno) {
-	if size > 0 && countParts(text[size:]) > 0 {
+// checkDigits returns the size of a number or a decimal at the start of a text, or what is wrong with it: leading zeros, or a letter or an underscore that follows.
+func checkDigits(text string, whole, size int) (int, api.Errno) {
+	if whole > 1 && text[0] == '0' || size > 0 && countParts(text[size:]) > 0 {
 		return 0, api.ErrSyntax
 	}
 	return size, api.OK

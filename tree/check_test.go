@@ -92,6 +92,31 @@ func TestTexts(t *testing.T) {
 	}
 }
 
+// TestNameBytes is for P2.1: which bytes begin a name, and which go on.
+func TestNameBytes(t *testing.T) {
+	const lower, upper, others = "abcdefghijklmnopqrstuvwxyz", "ABCDEFGHIJKLMNOPQRSTUVWXYZ", "0123456789_"
+	for c := range 256 {
+		one := string([]byte{byte(c)})
+		for _, x := range []struct {
+			op   int
+			text string
+			want bool
+		}{
+			{api.EVar, one, strings.Contains(lower, one)}, {api.TName, one, strings.Contains(upper, one)}, {api.EVar, "q" + one, strings.Contains(lower+upper+others, one)}, {api.TName, one + "::Q", strings.Contains(upper, one)},
+			{api.EInt, one, strings.Contains(others[:10], one)}, {api.EInt, "1" + one, strings.Contains(others[:10], one)}, {api.EReal, "1." + one, strings.Contains(others[:10], one)},
+		} {
+			if _, e := Check(raw(x.op, x.text)); (e == api.OK) != x.want || !x.want && e != api.ErrName {
+				t.Errorf("Check of Op %d with %q: %d", x.op, x.text, e)
+			}
+		}
+	}
+	for _, keyword := range strings.Fields("array as assert assume bool by calc call case class const datatype decreases else ensures exists export false forall fresh function fuel ghost greatest hidden if import in int invariant least lemma map match method modifies module multiset new old opaque print reads real refines requires return returns reveal seq set then true type var while witness bv1 bv9 bv10 bv32 bv64") {
+		if _, e := Check(raw(api.EVar, keyword)); e != api.ErrName {
+			t.Errorf("Check of a variable %s: %d", keyword, e)
+		}
+	}
+}
+
 // TestEmptyTexts checks that all Ops of the form "empty" have an empty Text. (P2.1)
 func TestEmptyTexts(t *testing.T) {
 	named := map[int]bool{}
@@ -105,7 +130,7 @@ func TestEmptyTexts(t *testing.T) {
 		if at, e := Check(tree); at != 0 || e != api.OK {
 			t.Errorf("Check of Op %d: %d, %d", op, at, e)
 		}
-		if tree[len(tree)-1].Text = "$"; named[op] == (smallest()[op].text == "") && op != api.MModule && op != api.SAssert && op != api.SStep {
+		if tree[len(tree)-1].Text = "$"; named[op] == (smalls[op].text == "") && op != api.MModule && op != api.SAssert && op != api.SStep {
 			t.Errorf("Op %d is in the wrong list", op)
 		}
 		if at, e := Check(tree); at != len(tree)-1 || e != api.ErrName {
@@ -190,7 +215,7 @@ func TestShapes(t *testing.T) {
 			for _, op := range c.kids {
 				kids = append(kids, smallTree(op))
 			}
-			tree := raw(c.op, smallest()[c.op].text, kids...)
+			tree := raw(c.op, smalls[c.op].text, kids...)
 			at := 0
 			if c.want != api.OK {
 				at = len(tree) - 1
@@ -198,7 +223,7 @@ func TestShapes(t *testing.T) {
 			if i, e := Check(tree); i != at || e != c.want {
 				t.Errorf("Check of Op %d above %v: %d, %d, want %d, %d", c.op, c.kids, i, e, at, c.want)
 			}
-			if out, e := Make(c.op, smallest()[c.op].text, kids); e != c.want || e == api.OK && !Same(out, tree) || e != api.OK && out != nil {
+			if out, e := Make(c.op, smalls[c.op].text, kids); e != c.want || e == api.OK && !Same(out, tree) || e != api.OK && out != nil {
 				t.Errorf("Make of Op %d above %v: %v, %d, want %d", c.op, c.kids, out, e, c.want)
 			}
 		}

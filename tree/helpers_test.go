@@ -68,9 +68,12 @@ func smallest() map[int]small {
 	return out
 }
 
+// smalls is the table of smallest, made once.
+var smalls = smallest()
+
 // smallTree returns the small tree of an Op.
 func smallTree(op int) api.Tree {
-	s := smallest()[op]
+	s := smalls[op]
 	var kids []api.Tree
 	for _, kid := range s.kids {
 		kids = append(kids, smallTree(kid))

@@ -94,6 +94,7 @@ func TestPrintParentheses(t *testing.T) {
 	for text, tree := range widest {
 		check(t, add(tree, z), "("+text+") + z")
 		check(t, add(z, tree), "z + ("+text+")")
+		check(t, one(api.EIff, tree, z), "("+text+") <==> z")
 		check(t, one(api.EImp, z, tree), "z ==> ("+text+")")
 		check(t, one(api.ENeg, tree), "-("+text+")")
 		check(t, raw(api.EIs, "C", tree), "("+text+").C?")
