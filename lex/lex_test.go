@@ -43,6 +43,9 @@ func TestTokens(t *testing.T) {
 		"bv bv9 bv10 BV8":               "0bv 1bv9 1bv10 0BV8",
 		"x_1 x__ X_y":                   "0x_1 0x__ 0X_y",
 		"_ C(_,_)":                      "4_ 0C 4( 4_ 4, 4_ 4)",
+		"_x __ _1 _if _X_y":             "4_ 0x 4_ 4_ 4_ 21 4_ 1if 4_ 0X_y",
+		"_1.5 _bv8 _bv65 ___x_":         "4_ 31.5 4_ 1bv8 4_ 0bv65 4_ 4_ 4_ 0x_",
+		"_M::f M::_f _::f a/**/_//_x":   "4_ 0M::f 0M 4:: 4_ 0f 4_ 4:: 0f 0a 4_",
 		"M::f M::F m::f":                "0M::f 0M::F 0m 4:: 0f",
 		"M ::f M:: f M:f":               "0M 4:: 0f 0M 4:: 0f 0M 4: 0f",
 		"M::if M::bv8 M::bv65 M::1":     "0M 4:: 1if 0M 4:: 1bv8 0M::bv65 0M 4:: 21",
@@ -77,6 +80,32 @@ func TestTokenPlaces(t *testing.T) {
 	}
 }
 
+// TestUnderscorePlaces is for P3.1: an underscore is a token by itself, and reading goes on behind it.
+func TestUnderscorePlaces(t *testing.T) {
+	l, at, e := Tokens("a __if_1 (_x)")
+	want := []Token{{Name, "a", 0}, {Sign, "_", 2}, {Sign, "_", 3}, {Name, "if_1", 4}, {Sign, "(", 9}, {Sign, "_", 10}, {Name, "x", 11}, {Sign, ")", 12}}
+	if at != 0 || e != api.OK || !slices.Equal(l, want) {
+		t.Errorf("%v, %d, %d, want %v", l, at, e, want)
+	}
+	for _, s := range []string{"", "x", "_", "if", "M::f", "7", "1.5", "03", "3_", ":=", "_$", " y", "/* */z", "/* x", strings.Repeat("a", 25)} {
+		rest, place, wrong := Tokens(s)
+		l, at, e := Tokens("_" + s)
+		if wrong != api.OK {
+			if len(l) != 0 || at != place+1 || e != wrong {
+				t.Errorf("Tokens(%q): %v, %d, %d, want %d at %d", "_"+s, l, at, e, wrong, place+1)
+			}
+			continue
+		}
+		want := []Token{{Kind: Sign, Text: "_"}}
+		for _, x := range rest {
+			want = append(want, Token{x.Kind, x.Text, x.At + 1})
+		}
+		if at != 0 || e != api.OK || !slices.Equal(l, want) {
+			t.Errorf("Tokens(%q): %v, %d, %d, want %v", "_"+s, l, at, e, want)
+		}
+	}
+}
+
 // TestTokenErrors is for P3.1: the first error and its offset, and the limits.
 func TestTokenErrors(t *testing.T) {
 	long := strings.Repeat("a", 25)
@@ -96,8 +125,13 @@ func TestTokenErrors(t *testing.T) {
 		"a @":                               {2, api.ErrSyntax},
 		"'":                                 {0, api.ErrSyntax},
 		"~":                                 {0, api.ErrSyntax},
-		"_x":                                {0, api.ErrSyntax},
-		"a __":                              {2, api.ErrSyntax},
+		"_$":                                {1, api.ErrSyntax},
+		"a _1x":                             {3, api.ErrSyntax},
+		"__03":                              {2, api.ErrSyntax},
+		"1.5__":                             {0, api.ErrSyntax},
+		"_/*":                               {1, api.ErrSyntax},
+		"_" + long:                          {1, api.ErrName},
+		"_A::" + long:                       {1, api.ErrName},
 		"é":                                 {0, api.ErrSyntax},
 		"x\x00":                             {1, api.ErrSyntax},
 		"x\v":                               {1, api.ErrSyntax},
@@ -276,6 +310,13 @@ func TestJoin(t *testing.T) {
 		"a / / b / * c":         "a / / b / * c",
 		"( / /":                 "(/ /",
 		"_ ( _ , _ ) _ [":       "_ (_, _) _[",
+		"_x":                    "_ x",
+		"__":                    "_ _",
+		"_1":                    "_ 1",
+		"_if_M::f":              "_ if_M :: f",
+		"_M::f":                 "_ M::f",
+		"(_x)[_1]!__#_.__":      "(_ x)[_ 1] !_ _ #_._ _",
+		"_.5 _?_;":              "_. 5 _? _;",
 		"if x then // y\n z":    "if x then z",
 	} {
 		l, _, e := Tokens(s)
@@ -378,6 +419,11 @@ func TestAnyBytes(t *testing.T) {
 		}
 		if e == api.OK {
 			checkGaps(t, s, l)
+			joined, wrong := Join(l)
+			back, _, e := Tokens(joined)
+			if wrong != api.OK || e != api.OK || show(back) != show(l) {
+				t.Fatalf("%q is joined to %q, %d, %d", s, joined, wrong, e)
+			}
 		}
 		if e == api.ErrSyntax { // what stands in front of the error can be read
 			if _, _, e := Tokens(s[:at]); e != api.OK {

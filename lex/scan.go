@@ -151,9 +151,9 @@ func (s scanner) name(text string) (int, api.Errno) {
 	return len(w), api.OK
 }
 
-// underscore finds an underscore that stands alone: with more behind it, it begins nothing.
+// underscore finds an underscore, whatever follows: no word begins with one, so it is a token by itself.
 func (s scanner) underscore(text string) (int, api.Errno) {
-	if text[0] == '_' && countParts(text) == 1 {
+	if text[0] == '_' {
 		return 1, api.OK
 	}
 	return 0, api.OK
