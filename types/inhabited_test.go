@@ -203,19 +203,87 @@ func maze(r *rand.Rand) (string, []string) {
 	return out + "type S0 = x: D0 | true witness x type S1 = x: S0 | true witness x", append(names, "int", "Cell", "seq<Cell>")
 }
 
-// hasValue says by which constructors a type has a value of a limited height, by the rules read as they stand.
-func hasValue(p api.Tree, s string, height int) bool {
-	base, _ := Base(p, s)
+// readings asks the rules as they stand about the types of a program, and keeps bases and constructors.
+type readings struct {
+	p     api.Tree
+	bases map[string]string
+	cons  map[string][]api.Cons
+}
+
+func newReadings(p api.Tree) readings {
+	return readings{p, map[string]string{}, map[string][]api.Cons{}}
+}
+
+func (r readings) base(s string) string {
+	if _, found := r.bases[s]; !found {
+		r.bases[s], _ = Base(r.p, s)
+	}
+	return r.bases[s]
+}
+
+func (r readings) constructors(s string) []api.Cons {
+	if _, found := r.cons[s]; !found {
+		r.cons[s], _ = Constructors(r.p, s)
+	}
+	return r.cons[s]
+}
+
+// hasValue says whether a type has a value of a limited height.
+func (r readings) hasValue(s string, height int) bool {
+	base := r.base(s)
 	switch {
 	case base == "int" || strings.HasPrefix(base, "seq<"):
 		return true
 	case height == 0:
 		return false
 	}
-	l, _ := Constructors(p, base)
-	return slices.ContainsFunc(l, func(c api.Cons) bool {
-		return !slices.ContainsFunc(c.Fields, func(f api.Bound) bool { return !hasValue(p, f.Sort, height-1) })
+	return slices.ContainsFunc(r.constructors(base), func(c api.Cons) bool {
+		return !slices.ContainsFunc(c.Fields, func(f api.Bound) bool { return !r.hasValue(f.Sort, height-1) })
 	})
+}
+
+// isAfter says whether a type is inhabited after some rounds.
+func (r readings) isAfter(s string, rounds int) bool {
+	switch {
+	case rounds == 0:
+		return false
+	case s == "int" || strings.HasPrefix(s, "seq<"):
+		return true
+	case strings.HasPrefix(s, "S"):
+		return r.isAfter(r.base(s), rounds-1)
+	}
+	return slices.ContainsFunc(r.constructors(s), func(c api.Cons) bool { return r.rank(c, rounds-1) < rounds })
+}
+
+// rank returns the rank of a constructor, or more than a limit.
+func (r readings) rank(c api.Cons, limit int) int {
+	for rank := range limit + 1 {
+		if !slices.ContainsFunc(c.Fields, func(f api.Bound) bool { return !r.isAfter(f.Sort, rank) }) {
+			return rank
+		}
+	}
+	return limit + 1
+}
+
+// text returns the text of the default expression of a type that is inhabited.
+func (r readings) text(s string) string {
+	switch {
+	case s == "int":
+		return "0"
+	case strings.HasPrefix(s, "seq<"):
+		return "[]"
+	case strings.HasPrefix(s, "S"):
+		return "x"
+	}
+	best := slices.MinFunc(r.constructors(s), func(a, b api.Cons) int { return r.rank(a, 6) - r.rank(b, 6) })
+	var fields []string
+	for _, f := range best.Fields {
+		fields = append(fields, r.text(f.Sort))
+	}
+	if len(fields) == 0 {
+		return best.Name
+	}
+	return best.Name + "(" + strings.Join(fields, ", ") + ")"
 }
 
 // TestMazes is for P5.4: the default expression exists just for inhabited types, and these are the ones that have a value.
@@ -225,10 +293,11 @@ func TestMazes(t *testing.T) {
 	for range 300 {
 		text, names := maze(r)
 		p := programOf(t, text)
+		rules := newReadings(p)
 		for _, s := range names {
 			is, e := Inhabited(p, s, nil)
 			d, f := Default(p, s)
-			if e != api.OK || is != hasValue(p, s, 5) || is != (f == api.OK) || !is && f != api.ErrEmpty || is != (len(d) > 0) {
+			if e != api.OK || is != rules.hasValue(s, 5) || is != (f == api.OK) || !is && f != api.ErrEmpty || is != (len(d) > 0) {
 				t.Fatalf("%q in %s: %v, %d; %v, %d", s, text, is, e, d, f)
 			}
 			if is {
@@ -240,6 +309,25 @@ func TestMazes(t *testing.T) {
 	}
 	if inhabited < 200 || empty < 200 {
 		t.Errorf("%d inhabited, %d empty", inhabited, empty)
+	}
+}
+
+// TestRanks is for P5.3: the constructor of a default expression is the first one of the least rank.
+func TestRanks(t *testing.T) {
+	r := rand.New(rand.NewSource(12))
+	for range 200 {
+		text, names := maze(r)
+		p := programOf(t, text)
+		rules := newReadings(p)
+		for _, s := range names {
+			d, e := Default(p, s)
+			if e != api.OK {
+				continue
+			}
+			if got, _ := tree.Print(d); got != rules.text(s) {
+				t.Fatalf("Default(%q) in %s: %s, want %s", s, text, got, rules.text(s))
+			}
+		}
 	}
 }
 
