@@ -78,6 +78,9 @@ func TestDeepPlaces(t *testing.T) {
 	checkFaults(t, Expression, map[string]fault{
 		in59 + "-x":                        {60, api.ErrDeep},
 		in59 + "- *":                       {61, api.ErrSyntax},
+		in59 + "-#x":                       {60, api.ErrDeep},
+		in59 + "--x":                       {60, api.ErrDeep},
+		in59[1:] + "-#x)":                  {60, api.ErrDeep},
 		in59 + "-true":                     {60, api.ErrDeep},
 		in59 + "a ==> b":                   {65, api.ErrDeep},
 		in59 + "a ==> if":                  {65, api.ErrSyntax},
@@ -162,6 +165,8 @@ func TestLimits(t *testing.T) {
 		chain(60):                        {119, api.ErrDeep},
 		chain(1000):                      {119, api.ErrDeep},
 		chain(1001):                      {2001, api.ErrMany},
+		chain(999) + "<-x":               {119, api.ErrDeep}, // just 4000 nodes
+		chain(999) + "<--x":              {1999, api.ErrMany},
 		chain(1001) + ")":                {2001, api.ErrMany},
 		chain(1001) + "+":                {2004, api.ErrSyntax},
 		chain(1000) + "<(x;":             {2004, api.ErrSyntax},
@@ -175,6 +180,15 @@ func TestLimits(t *testing.T) {
 		"x in (" + sum(1000) + ") in y":  {2009, api.ErrSyntax},
 		strings.Repeat("(x<", 40) + "x" + strings.Repeat("<x)", 40): {148, api.ErrMany},
 	})
+}
+
+// TestMostNodes is for P4.1: a tree may have 4000 nodes.
+func TestMostNodes(t *testing.T) {
+	list := func(n int) string { return "[x" + strings.Repeat(",x", n-1) + "]" }
+	if tree, at, e := Expression(list(3999)); len(tree) != 4000 || at != 0 || e != api.OK {
+		t.Errorf("4000 nodes: %d, %d at %d", len(tree), e, at)
+	}
+	checkFaults(t, Expression, map[string]fault{list(4000): {0, api.ErrMany}, "-" + list(3999): {0, api.ErrMany}})
 }
 
 // TestTreeErrors is for P4.1, P4.2 and P4.3: at the end, the errors of the tree, at the place of its node.

@@ -89,11 +89,8 @@ comparing:
 
 // relation returns the operator of a comparison that is there, and how many tokens it has: none, if there is no such operator.
 func (p *parser) relation() (operator, int) {
-	if p.is("!") {
-		if p.isAhead(1, "in") {
-			return p.signs[notIn], 2
-		}
-		p.wrong()
+	if p.is("!") && p.isAhead(1, "in") {
+		return p.signs[notIn], 2
 	}
 	if o := p.signs[p.token().Text]; o.level == relates {
 		return o, 1

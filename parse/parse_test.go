@@ -103,6 +103,8 @@ func TestPrimaries(t *testing.T) {
 		{"M::f(x,1)", "ECall:M::f@0(EVar:x@5 EInt:1@7)"},
 		{"C", "ECons:C@0"},
 		{"C()", "ECons:C@0"},
+		{"Z", "ECons:Z@0"},
+		{"A(a, z)", "ECons:A@0(EVar:a@2 EVar:z@5)"},
 		{"M::C(D)", "ECons:M::C@0(ECons:D@5)"},
 		{"((x))", "EVar:x@2"},
 		{"( x as seq<bv8>)", "EAs@0(EVar:x@2 TSeq@7(TBits:8@11))"},
