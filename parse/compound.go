@@ -25,9 +25,12 @@ func (p *parser) ifOrAlternatives() *part {
 	return newPart(api.SAlt, at, "", kids...)
 }
 
-// conditional is the rule IfStmt.
+// conditional is the rule IfStmt. Its condition does not begin with a set, also behind else, where no alternatives may stand.
 func (p *parser) conditional() *part {
 	at := p.expect("if")
+	if p.is("{") {
+		p.wrong()
+	}
 	kids := []*part{p.expression()}
 	kids = append(kids, p.block())
 	if p.accept("else") {

@@ -48,6 +48,25 @@ func TestPrinted(t *testing.T) {
 	})
 }
 
+// TestPrintedConditions is for P4.4: conditions with a set in front stand in parentheses behind each `if` of a statement, and are read again.
+func TestPrintedConditions(t *testing.T) {
+	for _, s := range []string{
+		"if ({a} <= b) {\n} else if ({a} <= b) {\n} else if ({a}.f) {\n} else {\n}",
+		"if a {\n} else if ({}) {\n  if b {\n  } else if ({} == {a}[b]) {\n  }\n}",
+		"if a {\n} else if b == {a} {\n} else if (if {a} == b then c else d) == c {\n}",
+		"if {\n  case {a} <= b => {\n    if a {\n    } else if ({b} == c && d) {\n    }\n  }\n}",
+	} {
+		parsed, _, e := Statement(s)
+		if e != api.OK {
+			t.Errorf("%q: %d", s, e)
+			continue
+		}
+		if printed, e := tree.Print(parsed); printed != s || e != api.OK {
+			t.Errorf("%q is printed as %q, %d", s, printed, e)
+		}
+	}
+}
+
 // TestFormatted is for P4.4: formatting a formatted text changes nothing, and keeps the tree.
 func TestFormatted(t *testing.T) {
 	eachTree(t, 12000, func(_ *rand.Rand, _ parserOf, text string, parsed api.Tree) {

@@ -67,7 +67,9 @@ func TestElseDepth(t *testing.T) {
 		strings.Repeat(open, 59) + "if b { }": condition,
 		strings.Repeat(open, 60) + "if b { }": condition,
 		strings.Repeat(open, 99) + "{ }":      condition,
-		strings.Repeat(open, 59) + "if {":     {59*len(open) + len("if "), api.ErrDeep},
+		strings.Repeat(open, 59) + "if ({":    condition,
+		strings.Repeat(open, 59) + "if {":     {59*len(open) + len("if "), api.ErrSyntax},
+		strings.Repeat(open, 58) + "if {":     {58*len(open) + len("if "), api.ErrSyntax},
 		strings.Repeat(open, 59) + "if case":  {59*len(open) + len("if "), api.ErrSyntax},
 	})
 }

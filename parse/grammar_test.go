@@ -53,8 +53,8 @@ Stmt = @Lower ':|' Expr ';' | Target ':=' '*' ';' | @Lower ':=' 'new' New ';' | 
 New = 'array' '<' Type @Close '(' Expr ',' Expr ')' | Named '(' Exprs ')'
 Lhs = | Lowers ':='
 Lowers = @Lower | Lowers ',' @Lower
-Stmt = 'if' '{' Guards '}' | 'if' Expr- Block | 'if' Expr- Block 'else' Else
-IfStmt = 'if' Expr Block | 'if' Expr Block 'else' Else
+Stmt = 'if' '{' Guards '}' | IfStmt
+IfStmt = 'if' Expr- Block | 'if' Expr- Block 'else' Else
 Else = Block | IfStmt
 Guards = 'case' Expr '=>' Block | Guards 'case' Expr '=>' Block
 Stmt = 'while' Expr Loop Block | 'match' Expr '{' SCases '}'
@@ -417,33 +417,64 @@ func TestGrammar(t *testing.T) {
 		if n%4 > 0 {
 			words = mutated(r, words)
 		}
-		text := strings.Join(words, " ")
-		tokens, _, e := lex.Tokens(text)
-		if e != api.OK {
-			continue
-		}
-		tokens = halves(tokens)
-		size, whole := g.recognize(p.start, tokens)
-		parsed, at, e := p.parse(text)
-		want := len(text)
-		if size < len(tokens) {
-			want = tokens[size].At
-		}
-		switch {
-		case e == api.ErrTwice && at <= want:
-		case whole:
+		switch compare(t, g, p.start, p.parse, strings.Join(words, " ")) {
+		case isText:
 			accepted++
-			if e == api.ErrSyntax || e == api.OK && tree.Same(parsed, nil) {
-				t.Fatalf("%s %q: %d at %d, want a tree", p.start, text, e, at)
-			}
-		default:
+		case isNone:
 			refused++
-			if e != api.ErrSyntax || at != want || len(parsed) > 0 {
-				t.Fatalf("%s %q: %d at %d, want ErrSyntax at %d", p.start, text, e, at, want)
-			}
 		}
 	}
 	if accepted < 2000 || refused < 2000 {
 		t.Errorf("only %d texts and %d others", accepted, refused)
+	}
+}
+
+// What compare finds out about a text: whether it is one of the grammar, or has an error of another kind.
+const (
+	isOther = iota
+	isText
+	isNone
+)
+
+// compare compares what the parser and the recognizer say of a text.
+func compare(t *testing.T, g *recognizer, start string, parse parserOf, text string) int {
+	t.Helper()
+	tokens, _, e := lex.Tokens(text)
+	if e != api.OK {
+		return isOther
+	}
+	tokens = halves(tokens)
+	size, whole := g.recognize(start, tokens)
+	parsed, at, e := parse(text)
+	want := len(text)
+	if size < len(tokens) {
+		want = tokens[size].At
+	}
+	switch {
+	case e == api.ErrTwice && at <= want:
+		return isOther
+	case whole:
+		if e == api.ErrSyntax || e == api.OK && tree.Same(parsed, nil) {
+			t.Fatalf("%s %q: %d at %d, want a tree", start, text, e, at)
+		}
+		return isText
+	}
+	if e != api.ErrSyntax || at != want || len(parsed) > 0 {
+		t.Fatalf("%s %q: %d at %d, want ErrSyntax at %d", start, text, e, at, want)
+	}
+	return isNone
+}
+
+// TestConditions is for P4.2: after each beginning of a statement with an expression, all short lists of tokens, of which a left brace may be the first one, are read as the grammar says.
+func TestConditions(t *testing.T) {
+	g := newRecognizer(newGrammar())
+	words := []string{"{", "}", "x", "==", "(", ")", "if", "case"}
+	for _, begin := range []string{"if", "if x { } else", "if x { } else if", "if { case x => { } } else", "if x { } else if x { } else if", "while", "match", "calc { x; ==", "print", "x := "} {
+		for _, end := range []string{"", "{ }", "; }"} {
+			for i := range len(words) * len(words) * len(words) {
+				text := strings.Join([]string{begin, words[i%8], words[i/8%8], words[i/64], end}, " ")
+				compare(t, g, "Stmt", Statement, text)
+			}
+		}
 	}
 }

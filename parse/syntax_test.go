@@ -84,7 +84,8 @@ func TestAssignmentErrors(t *testing.T) {
 func TestBlockErrors(t *testing.T) {
 	checkWrong(t, Statement, []string{
 		"{ x ~}", "{~", "{ x, ~1 }", "{x.f ~}", "{x ~+ y}", "~}", "{ } ~;", "{ } ~{ }", "{ ~case",
-		"if ~", "if { ~}", "if { case a ~{ } }", "if { case a => ~a; }", "if {~a} <= b { }", "if a ~b", "if a { } else ~x := 1;", "if a { } else if ~", "if a { } ~if b { }", "if a { } else { } ~else { }", "if a ~then { }", "if { case a => { } } ~else { }", "if a { } else if { ~case a => { } }",
+		"if ~", "if { ~}", "if { case a ~{ } }", "if { case a => ~a; }", "if {~a} <= b { }", "if a ~b", "if a { } else ~x := 1;", "if a { } else if ~", "if a { } ~if b { }", "if a { } else { } ~else { }", "if a ~then { }", "if { case a => { } } ~else { }", "if a { } else if ~{ case a => { } }",
+		"if a { } else if ~{b} <= c { }", "if a { } else if ~{} { }", "if a { } else if ~{", "if a { } else if b { } else if ~{c} == d { } else { }", "if a { if b { } else if ~{c} == d { } }", "if (a ~{ } else if {b} { }", "if { case a => { if b { } else if ~{ } } }",
 		"while ~", "while a ~;", "while a invariant { } ~", "while a ~requires b { }", "while a { } ~invariant b", "while ~invariant", "match a { ~}", "match a { case C => ~a }", "match a { case ~1.5 => { } }", "match a { case C => { } ~C }",
 		"assert ~;", "assert l: ~;", "assert a~", "assert a by ~;", "assert a ~{ }", "assert L~: a;", "assert l: m~: a;", "assert M::l~: a;", "assert ~by { }", "assume ~;", "assume a ~by { }", "print ~;", "print a~, b;", "return ~a;", "return~", "reveal ~C;", "reveal f~();", "reveal ~;",
 		"calc ~a;", "calc { ~}", "calc { a ~}", "calc { a; ~b; }", "calc { a; == ~}", "calc { a; ~> b; }", "calc { a; ~!= b; }", "calc { a; == {a~}; }", "calc { a; == { } ~}", "calc { a; == { } {b ~; }", "calc { a; == b ~}", "calc { ~== a; }",
