@@ -78,6 +78,9 @@ func Member(p api.Tree, s, name string) (string, bool, api.Errno) {
 	}
 	switch d, _ := f.findType(base.head); d.Op {
 	case api.DClass:
+		if len(base.args) > 0 {
+			return "", false, api.ErrArgs
+		}
 		return classMember(f.fields(d), name)
 	case api.DDatatype:
 		list, e := f.constructors(base)

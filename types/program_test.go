@@ -164,7 +164,7 @@ func TestFields(t *testing.T) {
 
 // TestMember is for P5.2: fields of classes, and destructors of instances, also of subset types of them.
 func TestMember(t *testing.T) {
-	p := programOf(t, samples+"type Numbers = l: List<Nat> | true witness Nil datatype Both = P(f: int, g: bool) | Q(g: real, h: int) type Box = c: Cell | true witness c "+
+	p := programOf(t, samples+"type Numbers = l: List<Nat> | true witness Nil datatype Both = P(f: int, g: bool) | Q(g: real, h: int) type Box = c: Cell | true witness c type Crate = c: Cell<int> | true witness c type Crates = c: Crate | true witness c "+
 		"datatype Deep<T> = Flat(a: int) | Full(b: map<T,map<T,T>>)")
 	for _, c := range []struct {
 		s, name, want string
@@ -198,6 +198,8 @@ func TestMember(t *testing.T) {
 		{"int", "v", api.ErrKind}, {"seq<Cell>", "v", api.ErrKind}, {"Nat", "v", api.ErrKind}, {"Tree", "v", api.ErrKind}, {"T", "v", api.ErrKind}, {"Nil", "head", api.ErrKind}, {"array<int>", "v", api.ErrKind},
 		{"List", "head", api.ErrArgs}, {"List<int,int>", "x", api.ErrArgs}, {"Round", "v", api.ErrCycle}, {"List<Ping>", "head", api.ErrCycle},
 		{"Deep<" + wide(200) + ">", "a", api.ErrLong},
+		{"Cell<int>", "v", api.ErrArgs}, {"Cell<int>", "old_v", api.ErrArgs}, {"Cell<int>", "w", api.ErrArgs}, {"Cell<T,T>", "v", api.ErrArgs}, {"Twice<Cell>", "a", api.ErrArgs}, {"Crate", "v", api.ErrArgs}, {"Crate", "w", api.ErrArgs}, {"Crates", "v", api.ErrArgs},
+		{"Cell<Round>", "v", api.ErrCycle}, {"seq<Cell<int>>", "v", api.ErrKind},
 	} {
 		if got, ghost, e := Member(p, c.s, c.name); got != "" || ghost || e != c.want {
 			t.Errorf("%d: Member(%.40q, %q): %q, %v, %d, want %d", i, c.s, c.name, got, ghost, e, c.want)
