@@ -38,26 +38,13 @@ func Default(p api.Tree, s string) (api.Tree, api.Errno) {
 	return out, api.OK
 }
 
-// Finite reports whether a type has finitely many values that can be listed: bool, bv1 to bv4, datatypes whose constructors have no fields.
+// Finite reports whether a type has finitely many values that can be listed: bool, bv1 to bv4, datatypes whose constructors have no fields. (All types that the rules reach are asked for their errors, although the answer needs the first ones alone.)
 func Finite(p api.Tree, s string) (bool, api.Errno) {
-	f, t, e := checked(p, s, nil)
+	r, e := reach(p, s, nil)
 	if e != api.OK {
 		return false, e
 	}
-	base, e := f.base(t)
-	if e != api.OK {
-		return false, e
-	}
-	switch base.head {
-	case "bool", "bv1", "bv2", "bv3", "bv4":
-		return true, api.OK
-	}
-	if d, _ := f.findType(base.head); d.Op != api.DDatatype {
-		return false, api.OK
-	}
-	list, e := f.constructors(base)
-	hasFields := slices.ContainsFunc(list, func(c constructor) bool { return len(c.fields) > 0 })
-	return e == api.OK && !hasFields, e
+	return r.isFinite(r.types[0]), api.OK
 }
 
 // reached is a type that the rules reach.
@@ -81,6 +68,10 @@ func (r *reached) isInhabited() bool {
 // isOpen reports whether all types of a way are inhabited.
 func (w way) isOpen() bool {
 	return !slices.ContainsFunc(w.types, func(t *reached) bool { return !t.isInhabited() })
+}
+
+func (w way) hasTypes() bool {
+	return len(w.types) > 0
 }
 
 // rank returns after how many rounds all types of a way that is open are inhabited.
@@ -172,6 +163,21 @@ func (r *reacher) count() {
 			t.round = round + 1
 		}
 	}
+}
+
+// isFinite reports whether the values of a type can be listed.
+func (r *reacher) isFinite(t *reached) bool {
+	switch t.head {
+	case "bool", "bv1", "bv2", "bv3", "bv4":
+		return true
+	}
+	switch d, _ := r.findType(t.head); d.Op {
+	case api.DSubset:
+		return r.isFinite(t.ways[0].types[0]) // its base
+	case api.DDatatype:
+		return !slices.ContainsFunc(t.ways, way.hasTypes)
+	}
+	return false
 }
 
 // defaultOf returns the default expression of a type that is inhabited.

@@ -107,7 +107,7 @@ func chainOf(n int, last string) string {
 	return out.String() + "datatype E" + strconv.Itoa(n-1) + " = C" + strconv.Itoa(n-1) + last
 }
 
-// TestReached is for P5.3: the errors of the types that the rules reach, and how many these may be.
+// TestReached is for P5.3: the errors of the types that the rules reach, and how many these may be, are those of Inhabited, Default and Finite alike.
 func TestReached(t *testing.T) {
 	long := "datatype Deep<T> = Flat(a: int) | Full(b: map<T,map<T,T>>) type Long = x: D<" + strings.Repeat("int,", 101) + "int> | true witness x "
 	p := programOf(t, samples+ranked+long+chainOf(202, " ")+" datatype Six<A,B,C,D,E,F> = P1(x: Six<B,A,C,D,E,F>, y: Six<B,C,D,E,F,A>) | P0 datatype HasRound = R1(r: Round) | R0 datatype HasSeq = Q1(r: seq<Round>) | Q0 "+
@@ -125,6 +125,9 @@ func TestReached(t *testing.T) {
 		d, e := Default(p, s)
 		if e != want && !(want == api.OK && e == api.ErrDeep) || e != api.OK && len(d) > 0 {
 			t.Errorf("Default(%.40q): %v, %d, want %d", s, d, e, want)
+		}
+		if is, e := Finite(p, s); e != want || is != (s == "E201") {
+			t.Errorf("Finite(%.40q): %v, %d, want %d", s, is, e, want)
 		}
 	}
 }
@@ -159,16 +162,16 @@ func TestLargeDefaults(t *testing.T) {
 
 // TestFinite is for P5.3: the types whose values can be listed.
 func TestFinite(t *testing.T) {
-	p := programOf(t, samples+ranked+"type Small = b: bv4 | true witness b type Tint = c: Color | true witness Red type Poor = l: List | true witness l datatype Deep<T> = Full(b: map<T,map<T,T>>) datatype Unit<T> = One")
+	p := programOf(t, samples+ranked+"type Small = b: bv4 | true witness b type Tint = c: Color | true witness Red type Poor = l: List | true witness l datatype Deep<T> = Full(b: map<T,map<T,T>>) datatype Unit<T> = One datatype Hue = Tone(c: Color) | Bare | Odd1(c: Color<int>) type Hues = h: Hue | true witness Bare datatype Far = Near | Next(f: Further) datatype Further = Last(s: seq<Round>)")
 	for s, want := range map[string]bool{
 		"bool": true, "bv1": true, "bv2": true, "bv3": true, "bv4": true, "Color": true, "Small": true, "Tint": true, "Unit<int>": true, "Unit<Loop>": true,
-		"bv5": false, "bv14": false, "bv64": false, "int": false, "real": false, "seq<bool>": false, "set<Color>": false, "map<bool,bool>": false, "multiset<bool>": false, "array<bool>": false, "List<bool>": false, "Cell": false, "Nat": false, "Numbered": false, "Loop": false, "Wrong": false, "Lost": false,
+		"bv5": false, "bv14": false, "bv64": false, "int": false, "real": false, "seq<bool>": false, "set<Color>": false, "map<bool,bool>": false, "multiset<bool>": false, "array<bool>": false, "List<bool>": false, "Cell": false, "Nat": false, "Numbered": false, "Loop": false, "Lost": false, "Ring": false, "Endless": false, "Open": false, "Held": false, "Only<Cell>": false, "Object": false, "Few": false, "Void": false, "Odd": false, "seq<Wrong>": false, "array<Grow<int>>": false, "Only<bool>": false,
 	} {
 		if is, e := Finite(p, s); is != want || e != api.OK {
 			t.Errorf("Finite(%q): %v, %d", s, is, e)
 		}
 	}
-	for s, want := range map[string]api.Errno{"Round": api.ErrCycle, "seq<Round>": api.ErrCycle, "List<Round>": api.ErrCycle, "Tree2": api.ErrUnknown, "List": api.ErrArgs, "T": api.ErrUnknown, "Poor": api.ErrArgs, "Deep<" + nested(25, "map<Nat,List<Nat>>") + ">": api.ErrLong} {
+	for s, want := range map[string]api.Errno{"Round": api.ErrCycle, "seq<Round>": api.ErrCycle, "List<Round>": api.ErrCycle, "Tree2": api.ErrUnknown, "List": api.ErrArgs, "T": api.ErrUnknown, "Poor": api.ErrArgs, "Deep<" + nested(25, "map<Nat,List<Nat>>") + ">": api.ErrLong, "Wrong": api.ErrArgs, "Only<Wrong>": api.ErrArgs, "Hues": api.ErrArgs, "Grow<int>": api.ErrLong, "Grow<Cell>": api.ErrLong, "Far": api.ErrCycle} {
 		if is, e := Finite(p, s); is || e != want {
 			t.Errorf("Finite(%.40q): %v, %d, want %d", s, is, e, want)
 		}
@@ -309,6 +312,41 @@ func TestMazes(t *testing.T) {
 	}
 	if inhabited < 200 || empty < 200 {
 		t.Errorf("%d inhabited, %d empty", inhabited, empty)
+	}
+}
+
+// isListed says whether the values of a type can be listed, by the definition as it stands.
+func (r readings) isListed(s string) bool {
+	constructors := r.constructors(r.base(s))
+	return len(constructors) > 0 && !slices.ContainsFunc(constructors, func(c api.Cons) bool { return len(c.Fields) > 0 })
+}
+
+// TestFiniteMazes is for P5.3: Finite has the errors of Inhabited, for types that the rules reach in any way, and otherwise the answer of the definition.
+func TestFiniteMazes(t *testing.T) {
+	r := rand.New(rand.NewSource(13))
+	faults := []string{"datatype Unknown = U(d: D0<int>)", "datatype Unknown = U(f: Cell, g: V) type V = v: set<V> | true witness v", "datatype Unknown = U(g: Grow<int>) datatype Grow<T> = Stop | More(g: Grow<seq<T>>)", "datatype Unknown = U | W", "datatype Unknown = U(s: seq<D0<int>>, c: Cell<int>)"}
+	count := map[api.Errno]int{}
+	for range 300 {
+		text, names := maze(r)
+		text += " " + faults[r.Intn(len(faults))]
+		p := programOf(t, text)
+		rules := newReadings(p)
+		for _, s := range append(names, "Unknown", "set<D1>") {
+			is, e := Finite(p, s)
+			_, want := Inhabited(p, s, nil)
+			if e != want || is != (e == api.OK && rules.isListed(s)) {
+				t.Fatalf("Finite(%q) in %s: %v, %d, want %d", s, text, is, e, want)
+			}
+			count[e]++
+			if is {
+				count[-1]++
+			}
+		}
+	}
+	for _, e := range []api.Errno{-1, api.OK, api.ErrArgs, api.ErrCycle, api.ErrLong} {
+		if count[e] < 100 {
+			t.Errorf("only %d with the error %d", count[e], e)
+		}
 	}
 }
 
