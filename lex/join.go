@@ -4,6 +4,7 @@ import (
 	"strings"
 
 	"entail/api"
+	"entail/common"
 )
 
 // Join returns a text with the given tokens.
@@ -12,7 +13,7 @@ func Join(l []Token) (string, api.Errno) {
 		return "", api.ErrMany
 	}
 	s, tokens := newScanner(), withoutPlaces(l)
-	if e := first(transform(tokens, s.checkToken)...); e != api.OK {
+	if e := common.First(common.Transform(tokens, s.checkToken)...); e != api.OK {
 		return "", e
 	}
 	var out strings.Builder
@@ -36,25 +37,6 @@ func withoutPlaces(l []Token) []Token {
 		out[i].At = 0
 	}
 	return out
-}
-
-// transform returns what a function makes of the elements of a list.
-func transform[A, B any](list []A, f func(A) B) []B {
-	out := make([]B, 0, len(list))
-	for _, x := range list {
-		out = append(out, f(x))
-	}
-	return out
-}
-
-// first returns the first error.
-func first(errors ...api.Errno) api.Errno {
-	for _, e := range errors {
-		if e != api.OK {
-			return e
-		}
-	}
-	return api.OK
 }
 
 // checkToken returns the error of a token at the offset 0.

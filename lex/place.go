@@ -4,6 +4,7 @@ import (
 	"strings"
 
 	"entail/api"
+	"entail/common"
 )
 
 // Position returns the line and the column of a byte offset, both from 1 on.
@@ -29,7 +30,7 @@ func Offset(s string, line, column int) (int, api.Errno) {
 	if len(s) > api.MaxText {
 		return 0, api.ErrLong
 	}
-	sizes := transform(strings.Split(s, "\n"), func(line string) int { return len(line) + 1 })
+	sizes := common.Transform(strings.Split(s, "\n"), func(line string) int { return len(line) + 1 })
 	if line < 1 || line > len(sizes) || column < 1 || column > sizes[line-1] {
 		return 0, api.ErrRange
 	}

@@ -4,6 +4,7 @@ import (
 	"strings"
 
 	"entail/api"
+	"entail/common"
 )
 
 // fraction is a numerator above a positive denominator, in lowest terms: equal fractions are equal structs.
@@ -120,29 +121,20 @@ func calculate(sign byte, a, b string) (string, api.Errno) {
 	return finishReal(operations[sign](x, y))
 }
 
-// transform returns what a function makes of the elements of a list.
-func transform[A, B any](list []A, f func(A) B) []B {
-	out := make([]B, 0, len(list))
-	for _, x := range list {
-		out = append(out, f(x))
-	}
-	return out
-}
-
 // readFraction returns the fraction that a string with one slash denotes.
 func readFraction(s string) fraction {
-	parts := transform(strings.Split(s, "/"), readSigned)
+	parts := common.Transform(strings.Split(s, "/"), readSigned)
 	return fraction{top: parts[0], bottom: parts[1]}
 }
 
 // lowest returns the fraction of two integers; the second one is not zero.
 func lowest(top, bottom signed) fraction {
-	common := top.gcd(bottom.magnitude)
-	reduced := transform([]magnitude{top.magnitude, bottom.magnitude}, func(m magnitude) magnitude {
-		if isOne(common) {
+	divisor := top.gcd(bottom.magnitude)
+	reduced := common.Transform([]magnitude{top.magnitude, bottom.magnitude}, func(m magnitude) magnitude {
+		if isOne(divisor) {
 			return m
 		}
-		quotient, _ := m.divide(common)
+		quotient, _ := m.divide(divisor)
 		return quotient
 	})
 	return fraction{top: withSign(top.negative != bottom.negative, reduced[0]), bottom: withSign(false, reduced[1])}

@@ -1,27 +1,10 @@
 package tree
 
 import (
-	"iter"
-
 	"entail/api"
+	"entail/common"
+	"entail/walk"
 )
-
-// place is a node with its index.
-type place struct {
-	api.Node
-	index int
-}
-
-// nodes yields the nodes of a tree with their indices.
-func nodes(t api.Tree) iter.Seq[place] {
-	return func(yield func(place) bool) {
-		for i, node := range t {
-			if !yield(place{node, i}) {
-				return
-			}
-		}
-	}
-}
 
 // checker examines the nodes of a tree one after the other; of those before the present one it knows the first node of the subtree, and its depth.
 type checker struct {
@@ -56,9 +39,9 @@ func inspect(t api.Tree) (checker, int, api.Errno) {
 		return checker{}, 0, api.ErrMany
 	}
 	c := checker{t, forms(), make([]int, len(t)), make([]int, len(t))}
-	for p := range nodes(t) {
+	for p := range walk.Nodes(t) {
 		if e := c.node(p); e != api.OK {
-			return checker{}, p.index, e
+			return checker{}, p.Index, e
 		}
 	}
 	if root := len(t) - 1; c.first[root] != 0 {
@@ -68,7 +51,7 @@ func inspect(t api.Tree) (checker, int, api.Errno) {
 }
 
 // node returns the error of a node.
-func (c *checker) node(p place) api.Errno {
+func (c *checker) node(p walk.Place) api.Errno {
 	switch {
 	case p.Op < 0 || p.Op >= api.Ops:
 		return api.ErrKind
@@ -77,32 +60,22 @@ func (c *checker) node(p place) api.Errno {
 	case !c.ordered(p):
 		return api.ErrOrder
 	}
-	if e := firstOf(c.shape(p), c.steps(p)); e != api.OK {
+	if e := common.First(c.shape(p), c.steps(p)); e != api.OK {
 		return e
 	}
 	c.measure(p)
 	switch {
 	case p.At < 0:
 		return api.ErrRange
-	case c.depth[p.index] > api.MaxDepth:
+	case c.depth[p.Index] > api.MaxDepth:
 		return api.ErrDeep
 	}
 	return api.OK
 }
 
-// firstOf returns the first error.
-func firstOf(errors ...api.Errno) api.Errno {
-	for _, e := range errors {
-		if e != api.OK {
-			return e
-		}
-	}
-	return api.OK
-}
-
 // ordered reports whether the children are in order.
-func (c *checker) ordered(p place) bool {
-	before := p.index - 1
+func (c *checker) ordered(p walk.Place) bool {
+	before := p.Index - 1
 	for i := len(p.Kids) - 1; i >= 0; i-- {
 		if before < 0 || p.Kids[i] != before {
 			return false
@@ -113,18 +86,18 @@ func (c *checker) ordered(p place) bool {
 }
 
 // measure notes the first node and the depth of the subtree of a node whose children are in order.
-func (c *checker) measure(p place) {
-	c.first[p.index], c.depth[p.index] = p.index, 1
+func (c *checker) measure(p walk.Place) {
+	c.first[p.Index], c.depth[p.Index] = p.Index, 1
 	for i, kid := range p.Kids {
 		if i == 0 {
-			c.first[p.index] = c.first[kid]
+			c.first[p.Index] = c.first[kid]
 		}
-		c.depth[p.index] = max(c.depth[p.index], c.depth[kid]+1)
+		c.depth[p.Index] = max(c.depth[p.Index], c.depth[kid]+1)
 	}
 }
 
 // shape returns the error of the number and the Ops of the children.
-func (c *checker) shape(p place) api.Errno {
+func (c *checker) shape(p walk.Place) api.Errno {
 	if p.Op == api.EMap && len(p.Kids)%2 != 0 {
 		return api.ErrShape
 	}
@@ -243,7 +216,7 @@ func (c *checker) isLiteral(node int) bool {
 }
 
 // steps returns the error of the relations and blocks in an SCalc.
-func (c *checker) steps(p place) api.Errno {
+func (c *checker) steps(p walk.Place) api.Errno {
 	if p.Op != api.SCalc {
 		return api.OK
 	}

@@ -4,6 +4,8 @@ import (
 	"strings"
 
 	"entail/api"
+	"entail/common"
+	"entail/walk"
 )
 
 // lines returns the lines of any node.
@@ -15,7 +17,7 @@ func (p printer) lines(node int) []string {
 	case api.SStep:
 		return p.step(n)
 	case api.DClass:
-		return enclose("class "+n.Text+" {", transform(n.Kids, p.field), "}")
+		return enclose("class "+n.Text+" {", common.Transform(n.Kids, p.field), "}")
 	case api.DFunction:
 		return p.function(n)
 	case api.DMethod:
@@ -41,7 +43,7 @@ func (p printer) all(nodes []int) []string {
 }
 
 func indented(lines []string) []string {
-	return transform(lines, func(line string) string { return "  " + line })
+	return common.Transform(lines, func(line string) string { return "  " + line })
 }
 
 // enclose returns lines, indented, between two others.
@@ -73,7 +75,7 @@ func (p printer) statement(node int) []string {
 	case api.SWhile:
 		return p.withClauses("while "+p.kid(n, 0), n.Kids[1:last], p.block("", n.Kids[last]))
 	case api.SForall:
-		variables := kidsOf(p.tree, n, api.QVar)
+		variables := walk.Kids(p.tree, n, api.QVar)
 		head := p.list("forall ", variables, " | ") + p.kid(n, len(variables))
 		return p.withClauses(head, n.Kids[last-1:last], p.block("", n.Kids[last]))
 	case api.SAssert:
@@ -209,8 +211,8 @@ func (p printer) clause(n api.Node) string {
 func (p printer) declaration(n api.Node) string {
 	switch n.Op {
 	case api.DDatatype:
-		constructors := p.kids(kidsOf(p.tree, n, api.DCons), " | ")
-		return "datatype " + n.Text + p.some("<", kidsOf(p.tree, n, api.DTypeParam), ">") + " = " + constructors
+		constructors := p.kids(walk.Kids(p.tree, n, api.DCons), " | ")
+		return "datatype " + n.Text + p.some("<", walk.Kids(p.tree, n, api.DTypeParam), ">") + " = " + constructors
 	case api.DSubset:
 		return "type " + n.Text + " = " + p.kid(n, 0) + " | " + p.kid(n, 1) + " witness " + p.kid(n, 2)
 	}
@@ -227,18 +229,18 @@ func (p printer) field(node int) string {
 
 // signature returns the text of a function or a method up to its parameters.
 func (p printer) signature(word string, n api.Node) string {
-	marks := transform(kidsOf(p.tree, n, api.DMark), p.text)
+	marks := common.Transform(walk.Kids(p.tree, n, api.DMark), p.text)
 	head := strings.Join(append(marks, word+" "+n.Text), " ")
-	return head + p.some("<", kidsOf(p.tree, n, api.DTypeParam), ">") + p.list("(", kidsOf(p.tree, n, api.DParam, api.DGhostParam), ")")
+	return head + p.some("<", walk.Kids(p.tree, n, api.DTypeParam), ">") + p.list("(", walk.Kids(p.tree, n, api.DParam, api.DGhostParam), ")")
 }
 
 // clauses returns the children that are clauses.
 func (p printer) clauses(n api.Node) []int {
-	return kidsOf(p.tree, n, api.CRequires, api.CReads, api.CModifies, api.CEnsures, api.CDecreases)
+	return walk.Kids(p.tree, n, api.CRequires, api.CReads, api.CModifies, api.CEnsures, api.CDecreases)
 }
 
 func (p printer) function(n api.Node) []string {
-	head := p.signature("function", n) + ": " + p.kids(kidsOf(p.tree, n, api.DResult), "")
+	head := p.signature("function", n) + ": " + p.kids(walk.Kids(p.tree, n, api.DResult), "")
 	var body []string
 	if last := n.Kids[len(n.Kids)-1]; classOf(p.tree[last].Op) == Expression {
 		body = enclose("{", p.lines(last), "}")
@@ -247,9 +249,9 @@ func (p printer) function(n api.Node) []string {
 }
 
 func (p printer) method(n api.Node) []string {
-	head := p.signature("method", n) + p.some(" returns (", kidsOf(p.tree, n, api.DOut), ")")
+	head := p.signature("method", n) + p.some(" returns (", walk.Kids(p.tree, n, api.DOut), ")")
 	var body []string
-	for _, block := range kidsOf(p.tree, n, api.SBlock) {
+	for _, block := range walk.Kids(p.tree, n, api.SBlock) {
 		body = p.block("", block)
 	}
 	return p.withClauses(head, p.clauses(n), body)
@@ -257,7 +259,7 @@ func (p printer) method(n api.Node) []string {
 
 // module returns the lines of a module; one without a name is not enclosed.
 func (p printer) module(n api.Node) []string {
-	refines, rest := kidsOf(p.tree, n, api.MRefines), n.Kids
+	refines, rest := walk.Kids(p.tree, n, api.MRefines), n.Kids
 	rest = rest[len(refines):]
 	if n.Text == "" {
 		return p.all(rest)

@@ -4,6 +4,8 @@ import (
 	"strings"
 
 	"entail/api"
+	"entail/common"
+	"entail/walk"
 )
 
 // The levels of expressions that have a name here; all others are numbers of the table in level.
@@ -54,7 +56,7 @@ func (p printer) kid(n api.Node, i int) string {
 
 // kids returns the texts of some children, with a separator in between.
 func (p printer) kids(nodes []int, separator string) string {
-	return strings.Join(transform(nodes, p.text), separator)
+	return strings.Join(common.Transform(nodes, p.text), separator)
 }
 
 // list returns the texts of some children between two brackets.
@@ -274,8 +276,8 @@ func (p printer) quantifier(n api.Node) string {
 	if n.Op == api.EExists {
 		word = "exists "
 	}
-	out := p.list(word, kidsOf(p.tree, n, api.QVar), "")
-	for _, trigger := range kidsOf(p.tree, n, api.QTrigger) {
+	out := p.list(word, walk.Kids(p.tree, n, api.QVar), "")
+	for _, trigger := range walk.Kids(p.tree, n, api.QTrigger) {
 		out += " " + p.text(trigger)
 	}
 	return out + " :: " + p.kid(n, len(n.Kids)-1)

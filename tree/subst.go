@@ -6,6 +6,8 @@ import (
 	"strconv"
 
 	"entail/api"
+	"entail/common"
+	"entail/walk"
 )
 
 // Subst returns an expression in which the free occurrences of a variable are replaced by another expression, without capture.
@@ -19,7 +21,7 @@ func Subst(t api.Tree, name string, by api.Tree) (api.Tree, api.Errno) {
 	case classOf(t[len(t)-1].Op) != Expression, classOf(by[len(by)-1].Op) != Expression:
 		return nil, api.ErrKind
 	}
-	at := scopes(t)
+	at := walk.Scopes(t)
 	places := freePlaces(t, at, name)
 	size := len(t) + len(places)*(len(by)-1)
 	if size > api.MaxNodes {
@@ -29,33 +31,33 @@ func Subst(t api.Tree, name string, by api.Tree) (api.Tree, api.Errno) {
 }
 
 // freePlaces returns the nodes at which a variable occurs free.
-func freePlaces(t api.Tree, at []*binding, name string) []int {
+func freePlaces(t api.Tree, at []*walk.Binding, name string) []int {
 	var out []int
 search:
-	for p := range nodes(t) {
+	for p := range walk.Nodes(t) {
 		if occurrence(p.Node) != name {
 			continue
 		}
-		for b := at[p.index]; b != nil; b = b.outer {
-			if b.name == name {
+		for b := at[p.Index]; b != nil; b = b.Outer {
+			if b.Name == name {
 				continue search
 			}
 		}
-		out = append(out, p.index)
+		out = append(out, p.Index)
 	}
 	return out
 }
 
 // renamed returns a tree in which the binders that would capture a variable of an expression at some places have fresh names.
-func renamed(t api.Tree, at []*binding, places []int, by api.Tree) api.Tree {
-	names := freshNames(t, capturing(at, places, freeVariables(by)), append(moved(t, 0), by...))
-	out := moved(t, 0)
+func renamed(t api.Tree, at []*walk.Binding, places []int, by api.Tree) api.Tree {
+	names := freshNames(t, capturing(at, places, freeVariables(by)), append(walk.Moved(t, 0), by...))
+	out := walk.Moved(t, 0)
 	for i := range out {
 		if name, found := names[i]; found {
 			out[i].Text = name
 		}
-		if b := at[i].find(occurrence(t[i])); b != nil {
-			if name, found := names[b.node]; found {
+		if b := at[i].Find(occurrence(t[i])); b != nil {
+			if name, found := names[b.Node]; found {
 				out[i].Text = name
 			}
 		}
@@ -64,12 +66,12 @@ func renamed(t api.Tree, at []*binding, places []int, by api.Tree) api.Tree {
 }
 
 // capturing returns the nodes that declare, around one of some places, one of some variables.
-func capturing(at []*binding, places []int, variables []string) map[int]bool {
+func capturing(at []*walk.Binding, places []int, variables []string) map[int]bool {
 	out := map[int]bool{}
 	for _, place := range places {
-		for b := at[place]; b != nil; b = b.outer {
-			if slices.Contains(variables, b.name) {
-				out[b.node] = true
+		for b := at[place]; b != nil; b = b.Outer {
+			if slices.Contains(variables, b.Name) {
+				out[b.Node] = true
 			}
 		}
 	}
@@ -102,7 +104,7 @@ func freshNames(t api.Tree, declaring map[int]bool, all []api.Node) map[int]stri
 func binders(t api.Tree, node int) []int {
 	switch t[node].Op {
 	case api.ELet, api.EForall, api.EExists, api.ESetOf, api.ECase:
-		return declared(t, node)
+		return walk.Declared(t, node)
 	}
 	return nil
 }
@@ -130,9 +132,9 @@ func insert(t api.Tree, places []int, by api.Tree) api.Tree {
 	now := make([]int, len(t)) // where the nodes are now
 	for i, n := range t {
 		if slices.Contains(places, i) {
-			out = append(out, moved(by, len(out))...)
+			out = append(out, walk.Moved(by, len(out))...)
 		} else {
-			n.Kids = transform(n.Kids, func(kid int) int { return now[kid] })
+			n.Kids = common.Transform(n.Kids, func(kid int) int { return now[kid] })
 			out = append(out, n)
 		}
 		now[i] = len(out) - 1

@@ -1,6 +1,9 @@
 package types
 
-import "entail/api"
+import (
+	"entail/api"
+	"entail/common"
+)
 
 // constructor is a constructor of an instance of a datatype.
 type constructor struct {
@@ -24,12 +27,12 @@ func Constructors(p api.Tree, s string) ([]api.Cons, api.Errno) {
 	if e != api.OK {
 		return nil, e
 	}
-	return transform(list, constructor.declared), api.OK
+	return common.Transform(list, constructor.declared), api.OK
 }
 
 // declared returns a constructor with the strings of its types.
 func (c constructor) declared() api.Cons {
-	return api.Cons{Name: c.name, Fields: transform(c.fields, field.bound)}
+	return api.Cons{Name: c.name, Fields: common.Transform(c.fields, field.bound)}
 }
 
 func (f field) bound() api.Bound {
@@ -57,8 +60,8 @@ func (p program) constructors(s shape) ([]constructor, api.Errno) {
 	}
 	var out []constructor
 	for _, c := range p.kids(d, api.DCons) {
-		fields := transform(p.kids(c, api.DField), func(d declaration) field { return field{d.Text, p.typeOf(d).put(bound)} })
-		if e := first(transform(fields, func(f field) api.Errno { return f.typ.size() })...); e != api.OK {
+		fields := common.Transform(p.kids(c, api.DField), func(d declaration) field { return field{d.Text, p.typeOf(d).put(bound)} })
+		if e := common.First(common.Transform(fields, func(f field) api.Errno { return f.typ.size() })...); e != api.OK {
 			return nil, e
 		}
 		out = append(out, constructor{c.Text, fields})

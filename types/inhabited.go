@@ -4,6 +4,7 @@ import (
 	"slices"
 
 	"entail/api"
+	"entail/common"
 	"entail/tree"
 )
 
@@ -140,8 +141,8 @@ func (r *reacher) follow(t *reached) api.Errno {
 		if e != api.OK {
 			return e
 		}
-		t.ways = transform(list, func(c constructor) way {
-			return way{c.name, transform(c.fields, func(f field) *reached { return r.add(f.typ) })}
+		t.ways = common.Transform(list, func(c constructor) way {
+			return way{c.name, common.Transform(c.fields, func(f field) *reached { return r.add(f.typ) })}
 		})
 	}
 	return api.OK
@@ -239,7 +240,7 @@ func appended(t, more api.Tree) api.Tree {
 	now := make(api.Tree, len(more))
 	copy(now, more)
 	for i := range now {
-		now[i].Kids = transform(more[i].Kids, func(kid int) int { return kid + by })
+		now[i].Kids = common.Transform(more[i].Kids, func(kid int) int { return kid + by })
 	}
 	return append(t, now...)
 }

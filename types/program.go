@@ -5,6 +5,7 @@ import (
 	"slices"
 
 	"entail/api"
+	"entail/common"
 	"entail/tree"
 )
 
@@ -89,7 +90,7 @@ func (p program) typed(d declaration) api.Bound {
 
 // names returns the texts of some declarations.
 func names(list []declaration) []string {
-	return transform(list, func(d declaration) string { return d.Text })
+	return common.Transform(list, func(d declaration) string { return d.Text })
 }
 
 // Decl returns the node of the declaration of a global name in a flat program; for a constructor that of its DCons.
@@ -114,7 +115,7 @@ func Check(p api.Tree, s string, vars []string) api.Errno {
 // checked returns a program and a type that is well-formed in it.
 func checked(p api.Tree, s string, vars []string) (program, shape, api.Errno) {
 	f, t, e := given(p, s)
-	if e := first(e, checkVariables(vars)); e != api.OK {
+	if e := common.First(e, checkVariables(vars)); e != api.OK {
 		return program{}, shape{}, e
 	}
 	return f, t, f.check(t, vars)
@@ -124,7 +125,7 @@ func checked(p api.Tree, s string, vars []string) (program, shape, api.Errno) {
 func given(p api.Tree, s string) (program, shape, api.Errno) {
 	f, programError := flat(p)
 	t, typeError := readShape(s)
-	return f, t, first(programError, typeError)
+	return f, t, common.First(programError, typeError)
 }
 
 // check returns the error of a type, from the outside to the inside.
@@ -142,7 +143,7 @@ func (p program) check(s shape, vars []string) api.Errno {
 			return api.ErrArgs
 		}
 	}
-	return first(transform(s.args, func(arg shape) api.Errno { return p.check(arg, vars) })...)
+	return common.First(common.Transform(s.args, func(arg shape) api.Errno { return p.check(arg, vars) })...)
 }
 
 // Fields returns the fields of a class.
@@ -163,7 +164,7 @@ func Fields(p api.Tree, s string) ([]Field, api.Errno) {
 
 // fields returns the fields of a class.
 func (p program) fields(class declaration) []Field {
-	return transform(p.kids(class, api.DField, api.DGhostField), func(d declaration) Field {
+	return common.Transform(p.kids(class, api.DField, api.DGhostField), func(d declaration) Field {
 		return Field{d.Text, p.typeOf(d).text(), d.Op == api.DGhostField}
 	})
 }
@@ -187,8 +188,8 @@ func Signature(p api.Tree, name string) (Callable, api.Errno) {
 		Method:  d.Op == api.DMethod,
 		Marks:   names(f.kids(d, api.DMark)),
 		Vars:    names(f.kids(d, api.DTypeParam)),
-		Params:  transform(params, f.typed),
-		Ghosts:  transform(params, func(d declaration) bool { return d.Op == api.DGhostParam }),
-		Results: transform(f.kids(d, api.DOut, api.DResult), f.typed),
+		Params:  common.Transform(params, f.typed),
+		Ghosts:  common.Transform(params, func(d declaration) bool { return d.Op == api.DGhostParam }),
+		Results: common.Transform(f.kids(d, api.DOut, api.DResult), f.typed),
 	}, api.OK
 }

@@ -5,6 +5,7 @@ import (
 	"strings"
 
 	"entail/api"
+	"entail/common"
 	"entail/tree"
 )
 
@@ -27,7 +28,7 @@ func (s shape) text() string {
 
 // texts returns the strings of some types.
 func texts(list []shape) []string {
-	return transform(list, shape.text)
+	return common.Transform(list, shape.text)
 }
 
 // equal reports whether two types are the same.
@@ -62,7 +63,7 @@ func (s shape) put(bound map[string]shape) shape {
 	if by, found := bound[s.head]; found && len(s.args) == 0 {
 		return by
 	}
-	return shape{s.head, transform(s.args, func(arg shape) shape { return arg.put(bound) })}
+	return shape{s.head, common.Transform(s.args, func(arg shape) shape { return arg.put(bound) })}
 }
 
 // write appends the nodes of a type in post-order.
@@ -87,7 +88,7 @@ func shapeAt(t api.Tree, node int) shape {
 			head = b.head + n.Text
 		}
 	}
-	return shape{head, transform(n.Kids, func(kid int) shape { return shapeAt(t, kid) })}
+	return shape{head, common.Transform(n.Kids, func(kid int) shape { return shapeAt(t, kid) })}
 }
 
 // readShape returns the type of a string.
@@ -128,23 +129,4 @@ func takenApart(s string) (shape, bool) {
 		}
 	}
 	return open[0], len(open) == 1
-}
-
-// transform returns what a function makes of the elements of a list.
-func transform[A, B any](list []A, f func(A) B) []B {
-	out := make([]B, 0, len(list))
-	for _, x := range list {
-		out = append(out, f(x))
-	}
-	return out
-}
-
-// first returns the first error.
-func first(errors ...api.Errno) api.Errno {
-	for _, e := range errors {
-		if e != api.OK {
-			return e
-		}
-	}
-	return api.OK
 }

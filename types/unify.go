@@ -4,13 +4,14 @@ import (
 	"slices"
 
 	"entail/api"
+	"entail/common"
 )
 
 // Unify returns the most general unifier of two types, and whether there is one.
 func Unify(a, b string, vars []string) ([]Binding, bool, api.Errno) {
 	x, ex := readShape(a)
 	y, ey := readShape(b)
-	if e := first(ex, ey, checkVariables(vars)); e != api.OK {
+	if e := common.First(ex, ey, checkVariables(vars)); e != api.OK {
 		return nil, false, e
 	}
 	u := unifier{vars, map[string]shape{}}
@@ -40,7 +41,7 @@ func (u *unifier) place(s shape) int {
 // unify makes two types equal, and reports whether they can be.
 func (u *unifier) unify(a, b shape) (bool, api.Errno) {
 	a, b = a.put(u.bound), b.put(u.bound)
-	if e := first(a.size(), b.size()); e != api.OK {
+	if e := common.First(a.size(), b.size()); e != api.OK {
 		return false, e
 	}
 	if a.equal(b) {

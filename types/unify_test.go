@@ -7,6 +7,7 @@ import (
 	"testing"
 
 	"entail/api"
+	"entail/common"
 )
 
 // showBindings returns bindings as text.
@@ -138,7 +139,7 @@ func generalized(r *rand.Rand, s string, stands map[string]string) string {
 	for i := range args {
 		args[i] = generalized(r, args[i], stands)
 	}
-	return shape{head, transform(args, func(arg string) shape { s, _ := readShape(arg); return s })}.text()
+	return shape{head, common.Transform(args, func(arg string) shape { s, _ := readShape(arg); return s })}.text()
 }
 
 // TestMostGeneral is for P5.4: two types that a substitution makes equal are unified; the bindings make them equal, are applied to each other, and the substitution factors through them.

@@ -4,6 +4,7 @@ import (
 	"slices"
 
 	"entail/api"
+	"entail/common"
 	"entail/num"
 )
 
@@ -60,7 +61,7 @@ func mapItems(items []api.Value) []api.Value {
 
 // keys returns the keys of a map.
 func keys(v api.Value) []api.Value {
-	return transform(entries(v.Items), func(e entry) api.Value { return e[0] })
+	return common.Transform(entries(v.Items), func(e entry) api.Value { return e[0] })
 }
 
 // find returns the index of a value in a list, or -1.

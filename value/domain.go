@@ -5,6 +5,7 @@ import (
 	"slices"
 
 	"entail/api"
+	"entail/common"
 	"entail/types"
 )
 
@@ -19,7 +20,7 @@ func Domain(p api.Tree, typ string, size int) ([]api.Value, bool, api.Errno) {
 	}
 	d := domains{w, map[sized][]api.Value{}}
 	complete, e := types.Finite(p, base)
-	return transform(d.of(base, size), clone), complete && e == api.OK, api.OK
+	return common.Transform(d.of(base, size), clone), complete && e == api.OK, api.OK
 }
 
 // sized is a type with a size.
@@ -92,7 +93,7 @@ func ints(size int) []api.Value {
 }
 
 func reals(size int) []api.Value {
-	out := transform(ints(size), func(v api.Value) api.Value { return api.Value{Kind: api.VReal, Num: v.Num + "/1"} })
+	out := common.Transform(ints(size), func(v api.Value) api.Value { return api.Value{Kind: api.VReal, Num: v.Num + "/1"} })
 	if size >= 1 {
 		out = append(out, api.Value{Kind: api.VReal, Num: "1/2"}, api.Value{Kind: api.VReal, Num: "-1/2"})
 	}
@@ -123,7 +124,7 @@ func collections(kind int, elements []api.Value, size int) iter.Seq[api.Value] {
 	return func(yield func(api.Value) bool) {
 		for length := range size + 1 {
 			for at := range positions(len(elements), length, gap) {
-				if !yield(collect(kind, transform(at, func(i int) api.Value { return elements[i] }))) {
+				if !yield(collect(kind, common.Transform(at, func(i int) api.Value { return elements[i] }))) {
 					return
 				}
 			}
@@ -154,7 +155,7 @@ func dictionaries(keys, values []api.Value, size int) iter.Seq[api.Value] {
 func (d domains) applications(list []constructor, size int) iter.Seq[api.Value] {
 	return func(yield func(api.Value) bool) {
 		for _, c := range list {
-			fields := transform(c.fields, func(typ string) []api.Value { return d.of(typ, size-1) })
+			fields := common.Transform(c.fields, func(typ string) []api.Value { return d.of(typ, size-1) })
 			for args := range tuples(fields) {
 				if !yield(api.Value{Kind: api.VCons, Text: c.name, Items: slices.Clone(args)}) {
 					return

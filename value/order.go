@@ -6,6 +6,7 @@ import (
 	"strings"
 
 	"entail/api"
+	"entail/common"
 	"entail/num"
 )
 
@@ -16,7 +17,7 @@ type element struct {
 
 // elements returns values as elements.
 func elements(l []api.Value) []element {
-	return transform(l, func(v api.Value) element { return element{v} })
+	return common.Transform(l, func(v api.Value) element { return element{v} })
 }
 
 // compare returns the order of two values whose numbers are well-formed.
@@ -64,7 +65,7 @@ func (a element) compareItems(b element) int {
 func sorted(l []api.Value) []api.Value {
 	list := elements(l)
 	slices.SortStableFunc(list, element.compare)
-	return transform(list, func(e element) api.Value { return e.Value })
+	return common.Transform(list, func(e element) api.Value { return e.Value })
 }
 
 // isEqual reports whether two values are equal.

@@ -5,6 +5,7 @@ import (
 	"strings"
 
 	"entail/api"
+	"entail/common"
 	"entail/types"
 )
 
@@ -88,8 +89,8 @@ func (w *world) constructors(node int, typ string) []constructor {
 	if e == api.ErrLong {
 		list = w.oneByOne(node, typ)
 	}
-	return transform(list, func(c api.Cons) constructor {
-		return constructor{c.Name, transform(c.Fields, func(f api.Bound) string { return w.base(f.Sort) })}
+	return common.Transform(list, func(c api.Cons) constructor {
+		return constructor{c.Name, common.Transform(c.Fields, func(f api.Bound) string { return w.base(f.Sort) })}
 	})
 }
 
@@ -110,7 +111,7 @@ func (w *world) oneByOne(node int, typ string) []api.Cons {
 			bindings = append(bindings, types.Binding{Name: n.Text, Type: args[len(bindings)]})
 			continue
 		}
-		fields := transform(n.Kids, func(field int) api.Bound {
+		fields := common.Transform(n.Kids, func(field int) api.Bound {
 			declared, _ := types.Of(w.tree, w.tree[field].Kids[0])
 			typ, _ := types.Subst(declared, bindings)
 			return api.Bound{Name: w.tree[field].Text, Sort: typ}
