@@ -136,7 +136,7 @@ func equated(n api.Term, kids []api.Terms) api.Terms {
 
 // isNumber reports whether a term is a numeral.
 func isNumber(t api.Terms) bool {
-	return t[0].Op == api.LNum
+	return t[len(t)-1].Op == api.LNum
 }
 
 // arithmetic is the functions for the numerals of a sort.
