@@ -202,7 +202,7 @@ func TestAnyArguments(t *testing.T) {
 		}
 		return out
 	}
-	for range 1500 {
+	for range 500 {
 		p := changed(base)
 		errnos(t, p)
 		context, errno := Context(p, r.Intn(len(p)+2)-1)
@@ -210,7 +210,7 @@ func TestAnyArguments(t *testing.T) {
 			t.Fatalf("Context: %v, %d", context, errno)
 		}
 	}
-	for range 1500 {
+	for range 500 {
 		p := base
 		if r.Intn(4) == 0 {
 			p = changed(base)

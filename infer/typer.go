@@ -11,22 +11,24 @@ import (
 type typer struct {
 	*world
 	tree      api.Tree
+	own       *texts // of the types in the tree
 	parents   []int
 	scopes    []*walk.Binding
 	given     map[string]*typ // the variables of an expression
 	rules     [api.Ops]rule
 	parts     [api.Ops]part
 	types     []*typ
-	texts     []string
+	found     []string // the strings of the types
 	instances []Instance
 	flows     []Flow
 }
 
 // newTyper returns a typer for a tree of a program.
-func newTyper(w *world, t api.Tree) *typer {
+func newTyper(w *world, own *texts) *typer {
+	t := own.tree
 	return &typer{
-		world: w, tree: t, parents: walk.Parents(t), scopes: walk.Scopes(t), given: map[string]*typ{},
-		rules: rules(), parts: parts(), types: make([]*typ, len(t)), texts: make([]string, len(t)),
+		world: w, tree: t, own: own, parents: walk.Parents(t), scopes: walk.Scopes(t), given: map[string]*typ{},
+		rules: rules(), parts: parts(), types: make([]*typ, len(t)), found: make([]string, len(t)),
 	}
 }
 
@@ -36,7 +38,7 @@ func typed(p api.Tree) (*typer, fault) {
 	if e != api.OK {
 		return &typer{}, at(0, e)
 	}
-	t := newTyper(w, p)
+	t := newTyper(w, w.texts)
 	for d := range walk.Nodes(p) {
 		if class, _ := tree.Class(d.Op); class != tree.Declaration {
 			continue
@@ -63,11 +65,11 @@ func (t *typer) check(node int, params []string) fault {
 		if !isType(t.tree[i].Op) || t.parents[i] >= 0 && isType(t.tree[t.parents[i]].Op) {
 			continue
 		}
-		text := typeText(t.tree, i)
+		text := t.own.of(i)
 		if sound[text] {
 			continue
 		}
-		if e := types.Check(t.program, text, params); e != api.OK {
+		if e := types.Check(t.skeleton, text, params); e != api.OK {
 			return at(i, e)
 		}
 		if d := t.read(text); d.errno != api.OK {
@@ -92,7 +94,7 @@ func typedExpression(p, e api.Tree, vars []api.Bound) (*typer, fault) {
 	if errno := isExpression(e); errno != api.OK {
 		return &typer{}, at(0, errno)
 	}
-	t := newTyper(w, e)
+	t := newTyper(w, newTexts(e))
 	if errno := t.variables(vars); errno != api.OK {
 		return &typer{}, at(0, errno)
 	}
@@ -132,7 +134,7 @@ func (t *typer) variables(vars []api.Bound) api.Errno {
 		if _, found := t.given[v.Name]; found {
 			return api.ErrTwice
 		}
-		if e := types.Check(t.program, v.Sort, nil); e != api.OK {
+		if e := types.Check(t.skeleton, v.Sort, nil); e != api.OK {
 			return e
 		}
 		d := t.read(v.Sort)
@@ -155,11 +157,11 @@ func (t *typer) declaredText(node int) string {
 	n := t.tree[node]
 	switch n.Op {
 	case api.PVar:
-		return t.texts[node]
+		return t.found[node]
 	case api.ELet:
-		return t.texts[n.Kids[0]]
+		return t.found[n.Kids[0]]
 	}
-	return typeText(t.tree, n.Kids[0])
+	return t.own.of(n.Kids[0])
 }
 
 // declaredAt returns the declared type of a variable, and whether it has one.
@@ -172,7 +174,7 @@ func (t *typer) declaredAt(b *walk.Binding) (declared, bool) {
 
 // readHere returns the declared type at a node of the tree.
 func (t *typer) readHere(node int) declared {
-	return t.read(typeText(t.tree, node))
+	return t.read(t.own.of(node))
 }
 
 // local returns the type of a local variable.

@@ -243,7 +243,7 @@ func (u *unit) flowing() fault {
 // finish notes the strings of all types.
 func (u *unit) finish() {
 	for _, node := range u.nodes {
-		u.texts[node] = u.types[node].text()
+		u.found[node] = u.types[node].text()
 	}
 	for _, i := range u.instances {
 		u.typer.instances = append(u.typer.instances, Instance{i.node, common.Transform(i.args, (*typ).text)})

@@ -39,6 +39,8 @@ func ascending[A any](list []A, node func(A) int) []A {
 // world is a flat program with what it declares.
 type world struct {
 	program  api.Tree
+	skeleton api.Tree // the types that it declares, without all that package types need not read again and again
+	texts    *texts   // of the types in it
 	globals  map[string]walk.Place
 	owners   map[string]walk.Place // the datatypes of the constructors
 	declared map[string]declared
@@ -60,7 +62,7 @@ func readWorld(p api.Tree) (*world, api.Errno) {
 	if _, e := types.Decl(p, ""); e != api.ErrUnknown { // no declaration has this name
 		return nil, e
 	}
-	w := &world{p, map[string]walk.Place{}, map[string]walk.Place{}, map[string]declared{}}
+	w := &world{p, skeletonOf(p), newTexts(p), map[string]walk.Place{}, map[string]walk.Place{}, map[string]declared{}}
 	for d := range walk.Nodes(p) {
 		if !isGlobal(d.Op) {
 			continue
@@ -118,7 +120,7 @@ func (w *world) differ(datatype walk.Place) bool {
 	seen := map[string]string{}
 	for _, c := range walk.Kids(w.program, datatype.Node, api.DCons) {
 		for _, field := range w.program[c].Kids {
-			name, text := w.program[field].Text, typeText(w.program, w.program[field].Kids[0])
+			name, text := w.program[field].Text, w.texts.of(w.program[field].Kids[0])
 			if before, found := seen[name]; found && before != text {
 				return true
 			}
@@ -128,11 +130,54 @@ func (w *world) differ(datatype walk.Place) bool {
 	return false
 }
 
-// typeText returns the string of the type at a node.
-func typeText(t api.Tree, node int) string {
-	sub := walk.Sub(t, node)
-	text, _ := types.Of(sub, len(sub)-1)
+// texts is the strings of the types in a tree, as far as they are known.
+type texts struct {
+	tree  api.Tree
+	known map[int]string
+}
+
+func newTexts(t api.Tree) *texts {
+	return &texts{t, map[int]string{}}
+}
+
+// of returns the string of the type at a node.
+func (x *texts) of(node int) string {
+	text, found := x.known[node]
+	if !found {
+		sub := walk.Sub(x.tree, node)
+		text, _ = types.Of(sub, len(sub)-1)
+		x.known[node] = text
+	}
 	return text
+}
+
+// skeletonOf returns the flat program that has the types of another one, with their type parameters and the types under subset types.
+func skeletonOf(p api.Tree) api.Tree {
+	var out api.Tree
+	module := api.Node{Op: api.MModule}
+	add := func(n api.Node, parts ...api.Tree) {
+		n.Kids = nil
+		for _, part := range parts {
+			out = append(out, walk.Moved(part, len(out))...)
+			n.Kids = append(n.Kids, len(out)-1)
+		}
+		out = append(out, n)
+		module.Kids = append(module.Kids, len(out)-1)
+	}
+	always := api.Tree{{Op: api.EBool, Text: "true"}}
+	for d := range walk.Nodes(p) {
+		switch d.Op {
+		case api.DDatatype:
+			parts := common.Transform(walk.Kids(p, d.Node, api.DTypeParam), func(kid int) api.Tree { return walk.Sub(p, kid) })
+			constructor := p[d.Kids[len(d.Kids)-1]].Text
+			add(d.Node, append(parts, api.Tree{{Op: api.DCons, Text: constructor}})...)
+		case api.DSubset:
+			add(d.Node, walk.Sub(p, d.Kids[0]), always, always)
+		case api.DClass:
+			add(d.Node)
+		}
+	}
+	return append(out, module, api.Node{Op: api.MProgram, Kids: []int{len(out)}})
 }
 
 // read returns the declared type of a type string.
@@ -140,7 +185,7 @@ func (w *world) read(text string) declared {
 	if d, found := w.declared[text]; found {
 		return d
 	}
-	base, e := types.Base(w.program, text)
+	base, e := types.Base(w.skeleton, text)
 	d := declared{errno: e}
 	if e == api.OK {
 		d = declared{typ: readType(text), base: readType(base)}
@@ -151,7 +196,7 @@ func (w *world) read(text string) declared {
 
 // readAt returns the declared type at a node of the program.
 func (w *world) readAt(node int) declared {
-	return w.read(typeText(w.program, node))
+	return w.read(w.texts.of(node))
 }
 
 // params returns the names of the type parameters of a declaration.
