@@ -153,13 +153,17 @@ func (u *unit) localAt(p walk.Place) (*typ, api.Errno) {
 	return nil, api.ErrUnknown
 }
 
-// chosen treats the condition of a choice.
-func (t *typer) chosen(p walk.Place) fault {
-	variable := func(u *unit) fault {
+// knows returns the demand that a statement names a local variable.
+func knows(p walk.Place) func(*unit) fault {
+	return func(u *unit) fault {
 		_, e := u.localAt(p)
 		return at(p.Index, e)
 	}
-	return t.unit(p.Kids, variable, has(p.Kids[0], named("bool")))
+}
+
+// chosen treats the condition of a choice.
+func (t *typer) chosen(p walk.Place) fault {
+	return t.unit(p.Kids, knows(p), has(p.Kids[0], named("bool")))
 }
 
 // call treats a call of a method.
@@ -229,12 +233,8 @@ func (t *typer) object(p walk.Place) fault {
 // array treats the length and the initial value of a new array.
 func (t *typer) array(p walk.Place) fault {
 	length, value := p.Kids[1], p.Kids[2]
-	variable := func(u *unit) fault {
-		_, e := u.localAt(p)
-		return at(p.Index, e)
-	}
 	element := t.readHere(p.Kids[0])
-	return t.unit(p.Kids[1:], variable, has(length, named("int")), gets(value, element), func(u *unit) fault {
+	return t.unit(p.Kids[1:], knows(p), has(length, named("int")), gets(value, element), func(u *unit) fault {
 		variable, _ := u.localAt(p)
 		return at(p.Index, u.unify(variable, named("array", element.base)))
 	})

@@ -40,11 +40,11 @@ func TestParts(t *testing.T) {
 	if _, _, e := Parts(sig, nested(80)); e != api.ErrSort { // 404 bytes
 		t.Errorf("a sort of 404 bytes: %d", e)
 	}
-	long := strings.Repeat("a", 192)
-	sig = api.Signature{Sorts: []string{long, long + "bbbb"}}
-	for more, want := range map[string]api.Errno{"Map<" + long + "," + long + "bbbb>": api.OK, "Map<" + long + "bbbb," + long + "bbbb>": api.OK, "Seq<Map<" + long + "," + long + "bbbb>>": api.OK, "Seq<Map<" + long + "bbbb," + long + "bbbb>>": api.ErrSort} {
-		if _, _, e := Parts(sig, more); e != want {
-			t.Errorf("a sort of %d bytes: %d, want %d", len(more), e, want)
+	of := func(length int) string { return strings.Repeat("a", length) }
+	sig = api.Signature{Sorts: []string{of(190), of(197), of(198), of(199)}}
+	for s, want := range map[string]api.Errno{"Map<" + of(197) + "," + of(197) + ">": api.OK, "Map<" + of(197) + "," + of(198) + ">": api.ErrSort, "Seq<Map<" + of(190) + "," + of(199) + ">>": api.OK, "Seq<Map<" + of(197) + "," + of(197) + ">>": api.ErrSort} {
+		if _, _, e := Parts(sig, s); e != want {
+			t.Errorf("a sort of %d bytes: %d, want %d", len(s), e, want)
 		}
 	}
 }
@@ -197,6 +197,9 @@ func signatures() map[string]struct {
 	add("through a map in a value", api.ErrCycle, nil, []api.Datatype{data("D", "a b Map<Int,Seq<Map<D,Int>>>")})
 	add("through the keys of another one", api.ErrCycle, nil, []api.Datatype{data("D", "a b C", "e"), data("C", "c d Map<D,Int>")})
 	add("through a key that reaches it", api.ErrCycle, nil, []api.Datatype{data("D", "a b Map<C,Int>", "e"), data("C", "c d Seq<D>")})
+	add("through a key that reaches it by way of others", api.ErrCycle, nil, []api.Datatype{data("D", "a b Map<C,Int>", "e"), data("A", "g h Seq<D>"), data("C", "c d Seq<B>"), data("B", "i j Seq<A>")})
+	add("through others to a key", api.ErrCycle, nil, []api.Datatype{data("D", "a b Seq<C>"), data("C", "c d Seq<B>"), data("B", "i j Map<D,Int>", "e")})
+	add("a key that others reach", api.OK, nil, []api.Datatype{data("D", "a b Map<C,Int>", "e"), data("A", "g h Seq<D>"), data("C", "c d Seq<B>"), data("B", "i j Seq<C>")})
 	add("keys of another one", api.OK, nil, []api.Datatype{data("D", "a b Map<C,D>", "e"), data("C", "c d Seq<C>")})
 	add("a key beside", api.OK, nil, []api.Datatype{data("D", "a b Map<C,Int>", "e"), data("C", "c", "d")})
 	add("functions before cycles", api.ErrSort, nil, []api.Datatype{data("D", "more rest D")}, fun("f", "F"))
