@@ -15,7 +15,7 @@ func TestExpressions(t *testing.T) {
 	p := programOf(t, samples)
 	for s, want := range map[string]string{
 		"1": "int", "1.5": "real", "true": "bool", "x": "int", "y": "int", "l": "List<int>", "row_s": "seq<int>", "h": "Cell", "limit": "int", "M::table": "map<int,seq<int>>",
-		"!b": "bool", "-x": "int", "-q": "real", "-w": "bv8", "x + y": "int", "q - 0.5": "real", "w * w": "bv8", "z + z": "set<real>", "u - u": "multiset<bool>", "z * z": "set<real>", "s + s": "seq<int>", "m + m": "map<int,seq<int>>", "m + map[]": "map<int,seq<int>>", "[] + s": "seq<int>",
+		"!b": "bool", "-x": "int", "-q": "real", "-w": "bv8", "x + y": "int", "x - y": "int", "x * y": "int", "w - w": "bv8", "u * u": "multiset<bool>", "q - 0.5": "real", "w * w": "bv8", "z + z": "set<real>", "u - u": "multiset<bool>", "z * z": "set<real>", "s + s": "seq<int>", "m + m": "map<int,seq<int>>", "m + map[]": "map<int,seq<int>>", "[] + s": "seq<int>",
 		"x / 2": "int", "q / q": "real", "w / w": "bv8", "x % 2": "int", "w % w": "bv8", "b && b": "bool", "b || b": "bool", "b ==> b": "bool", "b <==> b": "bool", "x == y": "bool", "l != Nil": "bool", "c == h": "bool", "Nil == l": "bool", "(set i: int | b :: Nil) == {l}": "bool",
 		"x < y": "bool", "q <= q": "bool", "w < w": "bool", "s <= []": "bool", "{} < z": "bool", "u <= multiset{}": "bool", "x in s": "bool", "q in z": "bool", "b in u": "bool", "x in m": "bool", "Nil in [l]": "bool", "[] in [s]": "bool",
 		"w & w": "bv8", "w | w": "bv8", "w ^ w": "bv8", "w << x": "bv8", "w >> 1": "bv8", "(x as real)": "real", "(q as Nat)": "int", "(w as bv16)": "bv16", "(x as int)": "int",
@@ -47,6 +47,23 @@ func TestExpressions(t *testing.T) {
 		}
 		if len(types) != len(e) || node != 0 || other != api.OK || types[len(e)-1] != want {
 			t.Errorf("Expression(%q): %q, %d, %d", s, types, node, other)
+		}
+	}
+}
+
+// TestWidths is for P8.2: bit vectors of all widths, and types whose names have digits.
+func TestWidths(t *testing.T) {
+	p := programOf(t, "datatype Z9 = Y0 class B2 { var bits2: bv2; }")
+	for width := 1; width <= 64; width++ {
+		typ := "bv" + strconv.Itoa(width)
+		vars := []api.Bound{{Name: "w", Sort: typ}, {Name: "z", Sort: "Z9"}, {Name: "b", Sort: "B2"}}
+		for s, want := range map[string]string{"-w + w * w - w / w % w": typ, "(w & w | w ^ w) << 1 >> 2": typ, "w < w": "bool", "(w as bv64)": "bv64", "(1 as " + typ + ")": typ, "z == Y0": "bool", "b.bits2": "bv2"} {
+			if got, e := TypeOf(p, expressionOf(t, s), vars); got != want || e != api.OK {
+				t.Errorf("TypeOf(%q) for %s: %q, %d", s, typ, got, e)
+			}
+		}
+		if _, e := TypeOf(p, expressionOf(t, "z + z"), vars); e != api.ErrType {
+			t.Errorf("the sum of values of a datatype: %d", e)
 		}
 	}
 }
@@ -99,7 +116,7 @@ func TestExpressionErrors(t *testing.T) {
 		{"[1, b]", "[1, b]", 0, api.ErrType}, {"{1, b}", "{1, b}", 0, api.ErrType}, {"map[1 := 1, b := 1]", "map[1 := 1, b := 1]", 0, api.ErrType}, {"map[1 := 1, 1 := b]", "map[1 := 1, 1 := b]", 0, api.ErrType}, {"forall i: int :: i", "forall i: int :: i", 0, api.ErrType}, {"set i: int | i :: i", "set i: int | i :: i", 0, api.ErrType}, {"match x { case 0 => 1 case _ => b }", "match x { case 0 => 1 case _ => b }", 0, api.ErrType}, {"fresh(x)", "fresh(x)", 0, api.ErrType}, {"fresh(l)", "fresh(l)", 0, api.ErrType},
 		{"match l { case 0 => 1 }", "0", 1, api.ErrType}, {"match x { case true => 1 }", "true", 1, api.ErrType}, {"match l { case Done => 1 }", "Done", 0, api.ErrType}, {"match l { case Cons(true, _) => 1 }", "true", 1, api.ErrType}, {"match x { case Nil => 1 }", "Nil", 0, api.ErrType}, {"match l { case Cons(Nil, _) => 1 }", "Nil", 0, api.ErrType}, {"match q { case 0 => 1 }", "0", 1, api.ErrType},
 		// a type that would occur in itself
-		{"var i := []; i == [i]", "i == [i]", 0, api.ErrType}, {"var i := Nil; Cons(i, i)", "Cons(i, i)", 0, api.ErrType}, {"var i := Nil; i == Cons(i, Nil)", "i == Cons(i, Nil)", 0, api.ErrType},
+		{"var i := []; i == [i]", "i == [i]", 0, api.ErrType}, {"var i := Nil; Cons(i, i)", "Cons(i, i)", 0, api.ErrType}, {"var i := [][0]; var j := [][0]; var k := [][0]; [i == [j], j == [k], k == i]", "k == i", 0, api.ErrType}, {"var i := [][0]; var j := [][0]; var k := [][0]; [i == [j], j == [k], k == j]", "k == j", 0, api.ErrType}, {"var i := Nil; i == Cons(i, Nil)", "i == Cons(i, Nil)", 0, api.ErrType},
 		// heads that are asked in the end, in the order of the nodes, behind errors of later nodes
 		{"b + b", "b + b", 0, api.ErrType}, {"l + l", "l + l", 0, api.ErrType}, {"s - s", "s - s", 0, api.ErrType}, {"m - m", "m - m", 0, api.ErrType}, {"s * s", "s * s", 0, api.ErrType}, {"z / z", "z / z", 0, api.ErrType}, {"q % q", "q % q", 0, api.ErrType}, {"b < b", "b < b", 0, api.ErrType}, {"l <= l", "l <= l", 0, api.ErrType}, {"m < m", "m < m", 0, api.ErrType}, {"x & x", "x & x", 0, api.ErrType}, {"x << x", "x << x", 0, api.ErrType}, {"-b", "-b", 0, api.ErrType}, {"-s", "-s", 0, api.ErrType}, {"c + c", "c + c", 0, api.ErrType}, {"a + a", "a + a", 0, api.ErrType},
 		{"(b as int)", "(b as int)", 0, api.ErrType}, {"(x as bool)", "(x as bool)", 0, api.ErrType}, {"(s as Row)", "(s as Row)", 0, api.ErrType}, {"([][0] as int)", "([][0] as int)", 0, api.ErrOpen}, {"([][0] as bool)", "([][0] as bool)", 0, api.ErrOpen},
@@ -107,7 +124,7 @@ func TestExpressionErrors(t *testing.T) {
 		// what is not known when it is asked
 		{"[][0][0]", "[][0][0]", 0, api.ErrOpen}, {"x in [][0]", "x in [][0]", 0, api.ErrOpen}, {"#[][0]", "#[][0]", 0, api.ErrOpen}, {"[][0][0..1]", "[][0][0..1]", 0, api.ErrOpen}, {"[][0][0 := 1]", "[][0][0 := 1]", 0, api.ErrOpen}, {"fresh([][0])", "fresh([][0])", 0, api.ErrOpen}, {"([][0].v == 1) && b", "[][0].v", 0, api.ErrOpen}, {"var i := [][0]; i.v + i.v", "i.v", 0, api.ErrOpen}, {"var i := [][0]; i == l && i.head == 1", "", 0, api.OK},
 		// what is not known in the end: the first node, then the type arguments
-		{"[] == []", "[]", 0, api.ErrOpen}, {"x == x && [] == []", "[]", 0, api.ErrOpen}, {"len(Nil) == 0", "Nil", 0, api.ErrOpen}, {"any() + 1", "any()", 0, api.ErrOpen}, {"1 + any()", "any()", 0, api.ErrOpen}, {"[any(), #([] + [])]", "[]", 0, api.ErrOpen}, {"any() + Ghost(1).n", "Ghost(1)", 0, api.ErrOpen}, {"match Ghost(1) { case Ghost(i) => i }", "Ghost(1)", 0, api.ErrOpen}, {"any() == any()", "any()", 0, api.ErrOpen}, {"(Nil.Nil? == b) && b", "Nil", 0, api.ErrOpen}, {"match [][0] { case i => x }", "[]", 0, api.ErrOpen},
+		{"[] == []", "[]", 0, api.ErrOpen}, {"var i := [][0]; i == []", "[]", 0, api.ErrOpen}, {"var i := [][0]; var j := [][0]; i == [j] && j == l", "", 0, api.OK}, {"x == x && [] == []", "[]", 0, api.ErrOpen}, {"len(Nil) == 0", "Nil", 0, api.ErrOpen}, {"any() + 1", "any()", 0, api.ErrOpen}, {"1 + any()", "any()", 0, api.ErrOpen}, {"[any(), #([] + [])]", "[]", 0, api.ErrOpen}, {"any() + Ghost(1).n", "Ghost(1)", 0, api.ErrOpen}, {"match Ghost(1) { case Ghost(i) => i }", "Ghost(1)", 0, api.ErrOpen}, {"any() == any()", "any()", 0, api.ErrOpen}, {"(Nil.Nil? == b) && b", "Nil", 0, api.ErrOpen}, {"match [][0] { case i => x }", "[]", 0, api.ErrOpen},
 		// types that stand in the expression come before all else
 		{"o + (x as Nope)", "Nope", 0, api.ErrUnknown}, {"o && (forall i: List :: b)", "List", 0, api.ErrArgs}, {"o && (forall i: seq<List<Nope>> :: b)", "seq<List<Nope>>", 0, api.ErrUnknown}, {"set i: T | b :: i", "T", 0, api.ErrUnknown}, {"forall i: Nat<int> :: b", "Nat<int>", 0, api.ErrArgs}, {"exists i: Nil :: b", "Nil", 0, api.ErrUnknown},
 	} {

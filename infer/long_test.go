@@ -1,6 +1,7 @@
 package infer
 
 import (
+	"slices"
 	"strings"
 	"testing"
 
@@ -120,33 +121,43 @@ func TestLongFlows(t *testing.T) {
 
 // TestSharedTypes is for P1: types that double again and again take neither time nor memory, and are too long in the end.
 func TestSharedTypes(t *testing.T) {
-	const letters = "ABCDEFGHIJKLMNOPQRSTUVW"
-	one := func(letter byte) string { return string(letter) }
-	pair := func(letter byte) string { return "map<" + string(letter+1) + "," + string(letter+1) + ">" }
-	for name, order := range map[string]string{"forwards": letters, "backwards": reversed(letters)} {
-		tuple := "Tuple<" + strings.Join(strings.Split(letters, ""), ",") + ">"
-		of := func(part func(byte) string) string {
-			var parts []string
-			for i := range len(order) {
-				parts = append(parts, part(order[i]))
-			}
-			return "Tuple<" + strings.Join(parts, ",") + ">"
+	var letters []string // type parameters, as many as a type of 400 bytes has room for
+	for i := range 39 {
+		letters = append(letters, string(rune('A'+i%26))+strings.Repeat("a", i/26))
+	}
+	backwards := slices.Clone(letters[:38])
+	slices.Reverse(backwards)
+	for name, order := range map[string][]string{"forwards": letters[:38], "backwards": backwards} {
+		one := "Tu<" + strings.Join(order, ",") + ">"
+		var list []string
+		for _, letter := range order {
+			next := letters[slices.Index(letters, letter)+1]
+			list = append(list, "map<"+next+","+next+">")
 		}
-		all := "<" + strings.Join(strings.Split(letters+"X", ""), ",") + ">"
-		text := "datatype " + tuple + " = Mk function double" + all + "(x: " + of(one) + ", y: " + of(pair) + "): " + tuple + " function one" + all + "(x: " + of(one) + "): int function pairs" + all + "(x: " + of(pair) + "): int"
+		pairs := "Tu<" + strings.Join(list, ",") + ">"
+		if len(pairs) > maxLength {
+			t.Fatalf("%d bytes", len(pairs))
+		}
+		all := "<" + strings.Join(letters, ",") + ">"
+		text := "datatype Tu<" + strings.Join(letters[:38], ",") + "> = Mk function double" + all + "(x: " + one + ", y: " + pairs + "): " + one + " function one" + all + "(x: " + one + "): int function pairs" + all + "(x: " + pairs + "): int"
 		p := programOf(t, text)
 		for _, s := range []string{"var t := Mk; double(t, t)", "var t := Mk; one(t) + pairs(t)", "var t := Mk; pairs(t) + one(t)", "var t := Mk; double(t, t) == double(t, t)", "var t := Mk; var u := double(t, t); double(u, u)", "var t := Mk; var u := Mk; double(t, t) == double(u, u) && t == u"} {
-			if _, _, e := Expression(p, expressionOf(t, s), nil); e != api.ErrLong && e != api.ErrOpen {
+			if _, _, e := Expression(p, expressionOf(t, s), nil); e != api.ErrLong && e != api.ErrOpen && e != api.ErrType {
 				t.Errorf("%s: %q: %d", name, s, e)
 			}
 		}
 	}
-}
-
-func reversed(s string) string {
-	out := ""
-	for _, c := range s {
-		out = string(c) + out
+	// two types that double, equal in their structure alone
+	var back []string
+	for i := range 38 {
+		back = append(back, "map<"+letters[i+1]+","+letters[i+1]+">")
 	}
-	return out
+	all := "<" + strings.Join(letters, ",") + ">"
+	tuple := "Tu<" + strings.Join(letters[:38], ",") + ">"
+	p := programOf(t, "datatype "+tuple+" = Mk function both"+all+"(x: "+tuple+", y: Tu<"+strings.Join(back, ",")+">, z: "+letters[0]+"): int")
+	for _, s := range []string{"var i := [][0]; both(Mk, Mk, i) + both(Mk, Mk, i)", "var t := Mk; var i := [][0]; both(t, t, i) + both(Mk, t, i)", "var t := Mk; var u := Mk; var i := [][0]; both(t, t, i) + both(u, u, i)"} {
+		if _, _, e := Expression(p, expressionOf(t, s), nil); e != api.ErrLong && e != api.ErrOpen {
+			t.Errorf("%q: %d", s, e)
+		}
+	}
 }

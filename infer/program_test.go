@@ -78,9 +78,9 @@ func shown(p api.Tree, node int) string {
 func TestInstances(t *testing.T) {
 	for s, want := range map[string]string{
 		body: "Nil<T> Cons(x, r)<T> length(r)<T> Nil<int> Cons(1, Nil)<int> length(Cons(1, Nil))<int>",
-		"method two<A, B>(a: A) returns (x: B) method m() { var i: bool; i := call two(Done); call n(); } method n()": "Done<> i := call two(Done);<Loop,bool> call n();<>",
-		"const d: bool := Two([], 1) == choose(1, [unit()], limit);":                                                  "Two([], 1)<seq<real>,int> unit()<> choose(1, [unit()], limit)<int,seq<real>>",
-		"function f(l: List<Row>): bool { l.Nil? || Done.Done? }":                                                     "l.Nil?<seq<int>> Done<> Done.Done?<>",
+		"method two<A, B>(a: A) returns (x: B) method m() { var i: bool; i := call two(Done); call n(); } method n()": "i := call two(Done);<Loop,bool>",
+		"const d: bool := Two([], 1) == choose(1, [unit()], limit);":                                                  "Two([], 1)<seq<real>,int> choose(1, [unit()], limit)<int,seq<real>>",
+		"function f(l: List<Row>): bool { l.Nil? || Done.Done? }":                                                     "l.Nil?<seq<int>>",
 		"function f(p: Pair<Row, List<Nat>>): int { match p { case Two(_, Cons(_, Nil)) => 1 case _ => 2 } }":         "Nil<int> Cons(_, Nil)<int> Two(_, Cons(_, Nil))<seq<int>,List<int>>",
 		"method m(p: Pair<Row, List<Nat>>) { match p { case Two(_, Cons(_, Nil)) => { } case Two(a, b) => { } } }":    "Nil<int> Cons(_, Nil)<int> Two(_, Cons(_, Nil))<seq<int>,List<int>> Two(a, b)<seq<int>,List<int>>",
 		"class C { var v: int; } method m() { var c: C; c := new C(len(Cons(1, Nil))); }":                             "Nil<int> Cons(1, Nil)<int> len(Cons(1, Nil))<int>",
@@ -96,7 +96,7 @@ func TestInstances(t *testing.T) {
 			last = i.Node
 			texts = append(texts, shown(p, i.Node)+"<"+strings.Join(i.Args, ",")+">")
 		}
-		if want = "cell()<> " + want; strings.Join(texts, " ") != want || node != 0 || e != api.OK {
+		if strings.Join(texts, " ") != want || node != 0 || e != api.OK {
 			t.Errorf("Instances of %q:\n%s, %d, %d, want\n%s", s, strings.Join(texts, " "), node, e, want)
 		}
 	}
@@ -122,6 +122,7 @@ func TestFlows(t *testing.T) {
 		"method n<T>() returns (x: T) method m() { var a: List<Nat>; a := call n(); }":                                                                                                         "a:List<Nat>",
 		"method m(x: Nat) { print x; assert x == 1; calc { x; == x; } var y: int := x; y := *; y :| y == x; match x { case i => { i := 1; } } forall i: Nat | true ensures true { i := 2; } }": "2:Nat",
 		"function f(x: Nat): bool { (var y := x; y == 1) && (forall z: Nat :: z == x) && x in [x] }":                                                                                           "",
+		"function id<T>(x: T): T method m(c: Cell) { id(c).old_v := 1; id(id(c)).v := 2; }":                                                                                                    "1:Nat",
 		"method m(l: List<Nat>) { l.head := 1; l.tail := l; }":                                                                                                                                 "", // base types stand in place of the type parameters
 	} {
 		p := programOf(t, samples+s)
@@ -174,6 +175,9 @@ func TestContext(t *testing.T) {
 		if !slices.EqualFunc(got, bound, func(b api.Bound, name string) bool { return b.Name == name }) || e != api.OK {
 			t.Errorf("Context of %s: %v, but bound are %q", c.text, got, bound)
 		}
+	}
+	if got, e := Context(p, 0); len(got) > 0 || e != api.OK {
+		t.Errorf("Context(0): %v, %d", got, e)
 	}
 	for _, node := range []int{-1, len(p), len(p) + 7} {
 		if got, e := Context(p, node); len(got) > 0 || e != api.ErrUnknown {
@@ -236,7 +240,7 @@ func TestProgramErrors(t *testing.T) {
 	}{
 		// declared types, each declaration's before its units
 		{"method m() { print o; var x: Nope; }", "Nope", 0, api.ErrUnknown}, {"method m() { print o; } const c2: Nope := 1;", "o", 0, api.ErrUnknown}, {"const c2: Nope := o;", "Nope", 0, api.ErrUnknown}, {"datatype D = E(f: seq<List<Nope, int>>)", "seq<List<Nope, int>>", 0, api.ErrArgs}, {"class C { var f: U1; }", "U1", 0, api.ErrUnknown}, {"datatype D<T> = E(f: T<int>)", "T<int>", 0, api.ErrArgs}, {"function f(x: List): Nope", "List", 0, api.ErrArgs},
-		{"type R1 = r: seq<R1> | o witness 1", "seq<R1>", 0, api.ErrCycle}, {"type R1 = r: R2 | o witness 1 type R2 = r: R1 | o witness 1", "R2", 0, api.ErrCycle}, {"method m(x: R1, y: Nope) type R1 = r: seq<R1> | o witness 1", "R1", 0, api.ErrCycle}, {"method m(c: Cell) { c := new Nope(1); }", "Nope", 0, api.ErrUnknown}, {"method m() { print (1 as Nope); }", "Nope", 0, api.ErrUnknown}, {"function f<T>(x: U): int", "U", 0, api.ErrUnknown}, {"function f<U1>(x: int): int function g(x: U1): int", "U1", 1, api.ErrUnknown},
+		{"type R1 = r: seq<R1> | o witness 1", "seq<R1>", 0, api.ErrCycle}, {"type R1 = r: R2 | o witness 1 type R2 = r: R1 | o witness 1", "R2", 0, api.ErrCycle}, {"method m(x: R1, y: Nope) type R1 = r: seq<R1> | o witness 1", "R1", 0, api.ErrCycle}, {"method m(c: Cell) { c := new Nope(1); }", "Nope", 0, api.ErrUnknown}, {"method m() { print (1 as Nope); }", "Nope", 0, api.ErrUnknown}, {"function f<T>(x: U): int", "U", 0, api.ErrUnknown}, {"function f(x: int, y: int, z: Nope): int", "Nope", 0, api.ErrUnknown}, {"function f<U1>(x: int): int function g(x: U1): int", "U1", 1, api.ErrUnknown},
 		// clauses
 		{"function f(): int requires 11 reads o", "11", 0, api.ErrType}, {"function f(): int ensures 11", "11", 0, api.ErrType}, {"function f(): int reads 11", "11", 0, api.ErrType}, {"function f(c: Cell): int reads [c]", "[c]", 0, api.ErrType}, {"function f(c: Cell): int reads {11}", "{11}", 0, api.ErrType}, {"function f(c: Cell): int reads {{c}}", "{{c}}", 0, api.ErrType}, {"function f(): int reads {}", "{}", 0, api.ErrOpen}, {"function f(): int reads [][0]", "[][0]", 0, api.ErrOpen}, {"function f(l: List<int>): int reads l", "l", 0, api.ErrType}, {"method m() modifies {} + {}", "{} + {}", 0, api.ErrOpen}, {"function f<T>(x: T): int reads x", "x", 0, api.ErrType}, {"function f<T>(x: T): int reads {x}", "{x}", 0, api.ErrType},
 		{"function f(): int decreases [], o", "o", 0, api.ErrUnknown}, {"function f(): int decreases [], 1", "[]", 0, api.ErrOpen}, {"method m() { while true invariant 11 { } }", "11", 0, api.ErrType}, {"method m() { while 11 invariant o { } }", "11", 0, api.ErrType}, {"method m() { while true modifies 11 { print o; } }", "11", 0, api.ErrType}, {"function f(): int requires o ensures 11", "o", 0, api.ErrUnknown}, {"method m() returns (r: int) requires r == 1", "r", 0, api.ErrUnknown},
@@ -283,6 +287,17 @@ func TestLaterTypes(t *testing.T) {
 	} {
 		if _, e := errnos(t, programOf(t, s)); e == api.OK {
 			t.Errorf("%q has no error", s)
+		}
+	}
+}
+
+// TestWrongMember is for P8.1: a member of a type with a wrong number of arguments, which a later declaration has.
+func TestWrongMember(t *testing.T) {
+	for _, s := range []string{"function f(d: int): int { g().f } function g(): D2 datatype D2<T> = E2(f: T)", "function f(d: int): int { g().f } function g(): C2<int> class C2 { var f: int; }"} {
+		s = strings.Replace(s, "f(d: int)", "k(d: int)", 1)
+		p := programOf(t, s)
+		if node, e := errnos(t, p); node != place(t, p, 0, "g().f", 0) || e != api.ErrArgs {
+			t.Errorf("%q: %d, %d", s, node, e)
 		}
 	}
 }

@@ -144,7 +144,7 @@ func (u *unit) fresh(count int) []*typ {
 	return out
 }
 
-// instance notes the type arguments of a declaration at a node, and returns them in place of the type parameters.
+// instance notes the type arguments at a node of a declaration that has type parameters, and returns them, and what stands in place of the parameters.
 func (u *unit) instance(node int, d walk.Place) ([]*typ, map[string]*typ) {
 	params := u.params(d)
 	args := u.fresh(len(params))
@@ -152,7 +152,9 @@ func (u *unit) instance(node int, d walk.Place) ([]*typ, map[string]*typ) {
 	for i, param := range params {
 		by[param] = args[i]
 	}
-	u.instances = append(u.instances, instance{node, args})
+	if len(args) > 0 {
+		u.instances = append(u.instances, instance{node, args})
+	}
 	return args, by
 }
 
