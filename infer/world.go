@@ -219,14 +219,15 @@ func (w *world) member(object *typ, name string) (int, map[string]*typ, api.Errn
 	for i, param := range params {
 		by[param] = object.args[i]
 	}
-	fields := walk.Kids(w.program, d.Node, api.DField, api.DGhostField)
-	for _, c := range walk.Kids(w.program, d.Node, api.DCons) {
-		fields = append(fields, w.program[c].Kids...)
-	}
-	for _, field := range fields {
-		if w.program[field].Text == name {
-			return w.program[field].Kids[0], by, api.OK
+	node, e := 0, api.ErrUnknown
+search:
+	for _, owner := range append([]int{d.Index}, walk.Kids(w.program, d.Node, api.DCons)...) {
+		for _, field := range walk.Kids(w.program, w.program[owner], api.DField, api.DGhostField) {
+			if w.program[field].Text == name {
+				node, e = w.program[field].Kids[0], api.OK
+				break search
+			}
 		}
 	}
-	return 0, nil, api.ErrUnknown
+	return node, by, e
 }
