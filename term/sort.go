@@ -142,6 +142,9 @@ func laws() []law {
 func (s *signature) interpreted(name string) (api.Fun, bool) {
 	word, sort, _ := strings.Cut(name, "$")
 	kind, parts := s.parts(sort)
+	if kind == "" || kind == uninterpreted || kind == datatype {
+		return api.Fun{}, false
+	}
 	for _, l := range laws() {
 		if l.kind == kind && l.word == word {
 			return l.function(name, sort, parts), true
