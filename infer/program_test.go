@@ -324,3 +324,43 @@ func TestWitnesses(t *testing.T) {
 		t.Errorf("Program: %d", e)
 	}
 }
+
+// TestExamples is for P8.1 to P8.3: the examples of the document.
+func TestExamples(t *testing.T) {
+	const program = `datatype List<T> = Nil | Cons(head: T, tail: List<T>) type Nat = x: int | 0 <= x witness 0 class Cell { var v: int; ghost var old_v: Nat; } datatype Loop = More(rest: Loop)
+		function len<T>(l: List<T>): Nat { match l { case Nil => 0 case Cons(x, r) => 1 + len(r) } }
+		method m(c: Cell) returns (n: int) modifies c { c.v := len(Cons(1, Nil)); n := c.v; }`
+	p := programOf(t, program)
+	found, _, e := Types(p)
+	call := place(t, p, 0, "len(Cons(1, Nil))", 0)
+	if e != api.OK || found[call] != "int" || found[call-2] != "List<int>" || shown(p, call-2) != "Nil" {
+		t.Errorf("Types: %q, %d", found, e)
+	}
+	instances, _, e := Instances(p)
+	var texts []string
+	for _, i := range instances[max(len(instances)-3, 0):] {
+		texts = append(texts, shown(p, i.Node)+" with "+strings.Join(i.Args, ","))
+	}
+	if got := strings.Join(texts, ", "); got != "Nil with int, Cons(1, Nil) with int, len(Cons(1, Nil)) with int" || e != api.OK {
+		t.Errorf("Instances: %s, %d", got, e)
+	}
+	flows, _, e := Flows(p)
+	if e != api.OK || len(flows) != 2 || flows[0] != (Flow{place(t, p, 0, "0", 1), "Nat"}) || p[flows[1].Node].Op != api.EMatch || flows[1].Type != "Nat" {
+		t.Errorf("Flows: %v, %d", flows, e)
+	}
+	for s, want := range map[string]struct {
+		at    string
+		errno api.Errno
+	}{
+		"method k() { var s: seq<int> := [] + []; }": {"", api.OK}, "method k() { print #([] + []); }": {"[]", api.ErrOpen}, "method k() { print 1 + 1.0; }": {"1 + 1.0", api.ErrType}, "method k(x: int) { print x in 3; }": {"x in 3", api.ErrType}, "method k() { assert Nil == Nil; }": {"Nil", api.ErrOpen},
+	} {
+		q := programOf(t, program+s)
+		at := 0
+		if want.at != "" {
+			at = place(t, q, len(p)-2, want.at, 0)
+		}
+		if node, e := errnos(t, q); node != at || e != want.errno {
+			t.Errorf("%q: %d, %d, want %d, %d", s, node, e, at, want.errno)
+		}
+	}
+}
