@@ -224,16 +224,15 @@ func (p *parser) operation(open token, op int) int {
 	return p.add(api.Term{Op: op, Sort: sort, Kids: kids})
 }
 
-// application reads the arguments of a function.
+// application reads the arguments of a function, and then looks for it.
 func (p *parser) application(open, head token) int {
-	f, found := p.function(head.text)
-	if !found {
-		return p.fail(head.at, api.ErrUnknown)
-	}
 	kids := p.list(1, many)
+	f, found := p.function(head.text)
 	switch {
 	case p.failed():
 		return 0
+	case !found:
+		return p.fail(head.at, api.ErrUnknown)
 	case len(kids) != len(f.Args):
 		return p.fail(open.at, api.ErrArgs)
 	case !sameSorts(sortsOf(p.out, kids), f.Args):
