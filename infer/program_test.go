@@ -39,6 +39,7 @@ func TestTypes(t *testing.T) {
 		{"method m(s: seq<int>) { calc { []; == { print s; } s; == [] + []; } calc { true; ==> false; } calc { 1; <= 2; < 3; == 4; } }", map[string]string{"[]": "seq<int>", "[] + []": "seq<int>"}},
 		{"method m(s: seq<Row>) { forall i: Nat, r: Row | r in s ensures r == [] { print i; } }", map[string]string{"i": "int", "r": "seq<int>", "[]": "seq<int>"}},
 		{"method m(x: int) { var y: int; y :| y == x; y := *; if { case x < 1 => { } case true => { } } while x < 1 invariant x == 1 decreases x, [x] { } assert x == 1 by { print [x]; } assume true; if x == 1 { } else if true { } }", map[string]string{"[x]": "seq<int>", "x == 1": "bool", "y == x": "bool"}},
+		{"method m(h: Handle) { h := new Handle(1, 2); }", map[string]string{"1": "int", "2": "int"}},
 		{"method m(h: Handle) { var g: Cell := h; h.v := 1; print fresh(g); }", map[string]string{"h": "Cell", "h.v": "int"}},
 		{"datatype Value<T> = V(n: Nat, t: T, r: seq<Value<T>>) function f(v: Value<Row>): Row { if #v.r == 0 then v.t else f(v.r[v.n]) }", map[string]string{"v": "Value<seq<int>>", "v.r": "seq<Value<seq<int>>>", "v.n": "int", "v.t": "seq<int>"}},
 	} {
