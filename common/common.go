@@ -1,4 +1,4 @@
-// Package common holds what the packages of the layers have in common: how lists are transformed, and which error comes first.
+// Package common holds what the packages of the layers have in common: how lists are transformed, which error comes first, and how values are copied.
 package common
 
 import "entail/api"
@@ -20,4 +20,14 @@ func First(errors ...api.Errno) api.Errno {
 		}
 	}
 	return api.OK
+}
+
+// Clone returns a value that shares no memory with another one.
+func Clone(v api.Value) api.Value {
+	items := v.Items
+	v.Items = nil
+	for _, item := range items {
+		v.Items = append(v.Items, Clone(item))
+	}
+	return v
 }

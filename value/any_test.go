@@ -5,12 +5,13 @@ import (
 	"testing"
 
 	"entail/api"
+	"entail/common"
 	"entail/parse"
 )
 
 // broken returns a value with a change or two.
 func (m maker) broken(v api.Value) api.Value {
-	v = clone(v)
+	v = common.Clone(v)
 	at := &v
 	for len(at.Items) > 0 && m.Intn(2) == 0 {
 		at = &at.Items[m.Intn(len(at.Items))]

@@ -4,6 +4,7 @@ import (
 	"slices"
 
 	"entail/api"
+	"entail/common"
 	"entail/num"
 )
 
@@ -90,7 +91,7 @@ func Apply(op int, l []api.Value) (api.Value, api.Errno) {
 	if e != api.OK {
 		return api.Value{}, e
 	}
-	return clone(out), api.OK
+	return common.Clone(out), api.OK
 }
 
 // sort is a kind, of bit vectors with the width.

@@ -4,6 +4,7 @@ import (
 	"strings"
 
 	"entail/api"
+	"entail/common"
 	"entail/num"
 )
 
@@ -15,7 +16,7 @@ func Convert(v api.Value, typ string) (api.Value, api.Errno) {
 	to, found := sortNamed(typ)
 	switch {
 	case v.Kind == api.VBool && typ == "bool", found && sortOf(v) == to:
-		return clone(v), api.OK
+		return common.Clone(v), api.OK
 	case !found:
 		return api.Value{}, api.ErrType
 	}

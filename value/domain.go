@@ -6,6 +6,7 @@ import (
 
 	"entail/api"
 	"entail/common"
+	"entail/instance"
 	"entail/types"
 )
 
@@ -20,7 +21,7 @@ func Domain(p api.Tree, typ string, size int) ([]api.Value, bool, api.Errno) {
 	}
 	d := domains{w, map[sized][]api.Value{}}
 	complete, e := types.Finite(p, base)
-	return common.Transform(d.of(base, size), clone), complete && e == api.OK, api.OK
+	return common.Transform(d.of(base, size), common.Clone), complete && e == api.OK, api.OK
 }
 
 // sized is a type with a size.
@@ -152,12 +153,12 @@ func dictionaries(keys, values []api.Value, size int) iter.Seq[api.Value] {
 }
 
 // applications yields the constructors with their arguments.
-func (d domains) applications(list []constructor, size int) iter.Seq[api.Value] {
+func (d domains) applications(list []instance.Constructor, size int) iter.Seq[api.Value] {
 	return func(yield func(api.Value) bool) {
 		for _, c := range list {
-			fields := common.Transform(c.fields, func(typ string) []api.Value { return d.of(typ, size-1) })
+			fields := common.Transform(c.Fields, func(typ string) []api.Value { return d.of(typ, size-1) })
 			for args := range tuples(fields) {
-				if !yield(api.Value{Kind: api.VCons, Text: c.name, Items: slices.Clone(args)}) {
+				if !yield(api.Value{Kind: api.VCons, Text: c.Name, Items: slices.Clone(args)}) {
 					return
 				}
 			}

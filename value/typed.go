@@ -4,6 +4,7 @@ import (
 	"slices"
 
 	"entail/api"
+	"entail/instance"
 )
 
 // HasType reports whether a value has a base type.
@@ -66,8 +67,8 @@ func (h *holder) decide(v api.Value, part int, d description) bool {
 	case d.isObject:
 		return v.Kind == api.VRef
 	}
-	return v.Kind == api.VCons && slices.ContainsFunc(d.constructors, func(c constructor) bool {
-		return c.name == v.Text && len(c.fields) == len(v.Items) && h.all(part, c.fields)
+	return v.Kind == api.VCons && slices.ContainsFunc(d.constructors, func(c instance.Constructor) bool {
+		return c.Name == v.Text && len(c.Fields) == len(v.Items) && h.all(part, c.Fields)
 	})
 }
 

@@ -5,7 +5,7 @@ import (
 	"strings"
 
 	"entail/api"
-	"entail/common"
+	"entail/instance"
 	"entail/types"
 )
 
@@ -21,13 +21,7 @@ type description struct {
 	args         []string
 	isVariable   bool
 	isObject     bool // a class, or an array
-	constructors []constructor
-}
-
-// constructor is a constructor of a datatype with the base types of its fields; a type without a base is empty.
-type constructor struct {
-	name   string
-	fields []string
+	constructors []instance.Constructor
 }
 
 // newWorld returns a program and the base of a type in it, whose names that are not declared are variables.
@@ -78,45 +72,7 @@ func (w *world) takeApart(typ string) description {
 	case w.tree[node].Op == api.DClass:
 		out.isObject = true
 	case w.tree[node].Op == api.DDatatype:
-		out.constructors = w.constructors(node, typ)
-	}
-	return out
-}
-
-// constructors returns the constructors of an instance of a datatype: none if it is not well-formed.
-func (w *world) constructors(node int, typ string) []constructor {
-	list, e := types.Constructors(w.tree, typ)
-	if e == api.ErrLong {
-		list = w.oneByOne(node, typ)
-	}
-	return common.Transform(list, func(c api.Cons) constructor {
-		return constructor{c.Name, common.Transform(c.Fields, func(f api.Bound) string { return w.base(f.Sort) })}
-	})
-}
-
-// base returns the base of a type, or an empty string if it has none.
-func (w *world) base(typ string) string {
-	base, _ := types.Base(w.tree, typ)
-	return base
-}
-
-// oneByOne returns the constructors of an instance with fields whose types are too long: these types are empty, since they have no base.
-func (w *world) oneByOne(node int, typ string) []api.Cons {
-	_, args, _ := types.Parts(typ)
-	var bindings []types.Binding
-	var out []api.Cons
-	for _, kid := range w.tree[node].Kids {
-		n := w.tree[kid]
-		if n.Op == api.DTypeParam {
-			bindings = append(bindings, types.Binding{Name: n.Text, Type: args[len(bindings)]})
-			continue
-		}
-		fields := common.Transform(n.Kids, func(field int) api.Bound {
-			declared, _ := types.Of(w.tree, w.tree[field].Kids[0])
-			typ, _ := types.Subst(declared, bindings)
-			return api.Bound{Name: w.tree[field].Text, Sort: typ}
-		})
-		out = append(out, api.Cons{Name: n.Text, Fields: fields})
+		out.constructors = instance.Constructors(w.tree, typ)
 	}
 	return out
 }
