@@ -111,24 +111,22 @@ func (r reader) domainError(d Domain) api.Errno {
 
 func (r reader) readTables() api.Errno {
 	for i, f := range r.sig.Funs {
-		if e := r.tableError(f.Name, r.Tables[i]); e != api.OK {
+		t := r.Tables[i]
+		if e := r.tableError(r.tabulate(f, &t), t); e != api.OK {
 			return e
 		}
-		t := r.Tables[i]
-		r.tables[f.Name] = &t
 	}
 	return api.OK
 }
 
 // tableError returns the error of the table of a function.
-func (r reader) tableError(name string, t Table) api.Errno {
+func (r reader) tableError(f *symbol, t Table) api.Errno {
 	switch {
-	case t.Name != name:
+	case t.Name != f.name:
 		return api.ErrName
 	case len(t.Entries) > maxEntries:
 		return api.ErrMany
 	}
-	f, _ := r.symbol(name)
 	before := Table{}
 	for _, entry := range t.Entries {
 		if e := r.argumentsError(f, entry.Args); e != api.OK {

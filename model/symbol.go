@@ -29,12 +29,12 @@ func (f *symbol) value(args []api.Value) (api.Value, api.Errno) {
 	return out, api.OK
 }
 
-// symbol returns the function with a name, and whether there is one.
+// symbol returns the function with a name, and whether there is one. (Those that have tables are there when these are.)
 func (w *world) symbol(name string) (*symbol, bool) {
 	if f, found := w.symbols[name]; found {
 		return f, true
 	}
-	f := w.declared(name)
+	f := w.constructed(name)
 	if f == nil {
 		f = w.interpreted(name)
 	}
@@ -45,13 +45,8 @@ func (w *world) symbol(name string) (*symbol, bool) {
 	return f, true
 }
 
-// declared returns the function with a name that the signature declares, or nil.
-func (w *world) declared(name string) *symbol {
-	for _, f := range w.sig.Funs {
-		if f.Name == name {
-			return w.tabulated(f)
-		}
-	}
+// constructed returns the function with a name that belongs to a datatype, or nil.
+func (w *world) constructed(name string) *symbol {
 	for _, d := range w.sig.Datas {
 		for _, c := range d.Cons {
 			if f := w.ofConstructor(w.known(d.Sort), c, name); f != nil {
@@ -62,10 +57,11 @@ func (w *world) declared(name string) *symbol {
 	return nil
 }
 
-// tabulated returns a function that a table gives.
-func (w *world) tabulated(f api.Fun) *symbol {
+// tabulate notes the table of a function, and returns the function.
+func (w *world) tabulate(f api.Fun, t *Table) *symbol {
 	out := &symbol{name: f.Name, args: common.Transform(f.Args, w.known), result: w.known(f.Sort)}
 	out.apply = func(args []api.Value) api.Value { return w.tableResult(out, args) }
+	w.symbols[f.Name], w.tables[f.Name] = out, t
 	return out
 }
 

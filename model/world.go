@@ -16,7 +16,7 @@ type sort struct {
 	isDeep bool // whether datatypes are in it
 }
 
-// The kinds of sorts that a signature declares, as term.Parts names them.
+// The kinds of sorts that a signature declares. All kinds have the names that term.Parts gives them.
 const (
 	uninterpreted = "Sort"
 	datatype      = "Data"
@@ -55,11 +55,16 @@ func newWorld(sig api.Signature, size int) (*world, api.Errno) {
 		counts:  map[extent]int{},
 		lists:   map[extent][]api.Value{},
 	}
+	for _, name := range []string{api.SortBool, api.SortInt, api.SortReal} {
+		w.sorts[name] = &sort{name: name, kind: name}
+	}
 	for _, name := range sig.Sorts {
 		w.sizes[name] = size
+		w.sorts[name] = &sort{name: name, kind: uninterpreted}
 	}
 	for i, d := range sig.Datas {
 		w.datas[d.Sort] = d
+		w.sorts[d.Sort] = &sort{name: d.Sort, kind: datatype, isDeep: true}
 		w.plain.Datas = append(w.plain.Datas, api.Datatype{Sort: d.Sort, Cons: []api.Cons{{Name: "c" + strconv.Itoa(i)}}})
 	}
 	return w, api.OK
@@ -74,7 +79,7 @@ func (w *world) sort(name string) (*sort, bool) {
 	if e != api.OK {
 		return nil, false
 	}
-	s := &sort{name: name, kind: kind, isDeep: kind == datatype}
+	s := &sort{name: name, kind: kind}
 	for _, part := range parts {
 		p := w.known(part)
 		s.parts = append(s.parts, p)
