@@ -107,6 +107,11 @@ type M::Nat = x: int | 0 <= x witness 0
 class M::Cell { }
 datatype M::Twice = M::Thrice
 class M::Twice { }
+class M::Class { }
+datatype M::Class = M::C1
+type M::Subset = x: int | true witness 0
+datatype M::Subset = M::C2
+datatype M::Cons = M::Cons
 function f(n: int): int { if n <= 0 then 0 else f(n - 1) }
 function g(n: int): int { h(n) }
 function h(n: int): int { g(n) }
@@ -146,6 +151,10 @@ method loop(n: int) returns (m: int) { m := call loop(n); }
 		"lemma method l(a: M::Nat, b: M::Cell) ensures f(a) == 0":                                             "",
 		"lemma method l(a: M::D, b: M::D) ensures size(b) == 0":                                               "b",
 		"lemma method l(a: M::Twice) ensures f(a) == 0":                                                       "a", // the first declaration of a name is meant
+		"lemma method l(a: M::Class) ensures f(a) == 0":                                                       "",
+		"lemma method l(a: M::Subset) ensures f(a) == 0":                                                      "",
+		"lemma method l(a: M::Cons) ensures f(a) == 0":                                                        "",
+		"lemma method l(a: M::D, b: int) ensures plain(b) == 0":                                               "a",
 		"lemma method l<T>(a: T, b: List<T>) ensures f(a) == 0":                                               "b",
 		"lemma method l<List>(a: List, b: int) ensures f(a) == 0":                                             "",
 		"lemma method l(a: Unknown) ensures f(a) == 0":                                                        "",

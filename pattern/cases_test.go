@@ -47,6 +47,10 @@ func TestMissing(t *testing.T) {
 		{"bv4", "0 | 1 | 3", "2"},
 		{"bv5", "0 | 1 | 3", "2"},
 		{"bv64", "0", "1"},
+		{"Pair<bv4,bool>", "Two(0, true) | Two(1, _)", "Two(0, false)"}, // all heads are asked, ascending
+		{"Pair<bv5,bool>", "Two(0, true) | Two(1, _)", "Two(2, _)"},     // the least further one is asked first
+		{"Pair<int,bool>", "Two(-1, true) | Two(_, false)", "Two(0, true)"},
+		{"Pair<int,bool>", "Two(-1, _) | Two(_, _)", ""},
 		{"Byte", "0", "1"},
 		{"Nat", "0", "1"},
 		{"Row", "None", "Some(_, _)"},

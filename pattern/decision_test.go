@@ -47,6 +47,17 @@ func TestCompile(t *testing.T) {
 	}
 }
 
+// TestCompileBits is for P10.3: of four bits all numbers are all heads, of five bits they are not.
+func TestCompileBits(t *testing.T) {
+	p := programOf(t, samples)
+	for width, numbers := range map[string]int{"bv4": 16, "bv5": 32} {
+		d, e := Compile(p, width, listOf(t, bits(0, numbers-1)...))
+		if e != api.OK || len(d[0].Labels) != numbers || (d[0].Else == -1) != (width == "bv4") {
+			t.Errorf("Compile of all numbers of %s: %v, %d", width, d, e)
+		}
+	}
+}
+
 // leaf returns a leaf.
 func leaf(number int) Test {
 	return Test{Leaf: true, Case: number}

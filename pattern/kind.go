@@ -96,10 +96,9 @@ func (k *kind) constructor(name string) (instance.Constructor, bool) {
 // parts returns the types of the parts of values with a head.
 func (w *world) parts(k *kind, h head) []*kind {
 	var out []*kind
-	if c, found := k.constructor(h.text); found && h.kind == ofConstructor {
-		for _, field := range c.Fields {
-			out = append(out, w.of(field))
-		}
+	c, _ := k.constructor(h.text)
+	for _, field := range c.Fields {
+		out = append(out, w.of(field))
 	}
 	return out
 }

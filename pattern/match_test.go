@@ -134,7 +134,7 @@ func typeErrors() map[string]api.Errno {
 func TestTypeErrors(t *testing.T) {
 	p := programOf(t, samples)
 	bad := api.Tree{{Op: api.EInt, Text: "1"}}
-	many := slices.Repeat([]api.Tree{bad}, maxList+1)
+	many := slices.Repeat([]api.Tree{bad}, 33)
 	asks := func(p api.Tree, typ string) []api.Errno {
 		_, node, e1 := Check(p, typ, bad)
 		if node != 0 {
@@ -203,9 +203,9 @@ func TestPatternErrors(t *testing.T) {
 			t.Errorf("%s: %v, want %d", text, got, want)
 		}
 	}
-	for n, want := range map[int]api.Errno{maxList: api.OK, maxList + 1: api.ErrMany} {
+	for n, want := range map[int]api.Errno{32: api.OK, maxList + 1: api.ErrMany} {
 		l := slices.Repeat([]api.Tree{wild}, n)
-		if n > maxList {
+		if n > 32 {
 			l[0] = wrong
 		}
 		_, e1 := Useful(p, "D", l, wild)
@@ -216,7 +216,7 @@ func TestPatternErrors(t *testing.T) {
 			t.Errorf("%d patterns: %v, want %d", n, got, want)
 		}
 	}
-	_, e := Useful(p, "D", slices.Repeat([]api.Tree{wild}, maxList+1), wrong)
+	_, e := Useful(p, "D", slices.Repeat([]api.Tree{wild}, 33), wrong)
 	if e != api.ErrMany {
 		t.Errorf("Useful of too many patterns and a wrong one: %d", e)
 	}

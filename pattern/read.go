@@ -193,16 +193,11 @@ func literalAt(t api.Tree, p walk.Place) literal {
 	return literal{n.Op == api.EBool, n.Text}
 }
 
-// writeLiteral appends the nodes of the literal with a text.
+// writeLiteral appends the nodes of the literal with a text. (The numbers of missing patterns are natural: a negative one is asked for only if all others are covered, and then it is, too.)
 func writeLiteral(t api.Tree, text string) api.Tree {
-	number, _, _ := strings.Cut(text, bitsHead)
-	digits, isNegative := strings.CutPrefix(number, "-")
-	switch {
-	case text == "false", text == "true":
+	if text == "false" || text == "true" {
 		return append(t, api.Node{Op: api.EBool, Text: text})
-	case isNegative:
-		t = append(t, api.Node{Op: api.EInt, Text: digits})
-		return append(t, api.Node{Op: api.ENeg, Kids: []int{len(t) - 1}})
 	}
-	return append(t, api.Node{Op: api.EInt, Text: digits})
+	number, _, _ := strings.Cut(text, bitsHead)
+	return append(t, api.Node{Op: api.EInt, Text: number})
 }
