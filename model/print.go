@@ -32,11 +32,9 @@ func Print(sig api.Signature, m Model) (string, api.Errno) {
 	return out.String(), api.OK
 }
 
-// writeLine writes words on a line. Behind the limit nothing more need be written.
+// writeLine writes words on a line.
 func writeLine(out *strings.Builder, words ...string) {
-	if out.Len() <= api.MaxText {
-		out.WriteString(strings.Join(words, " ") + "\n")
-	}
+	out.WriteString(strings.Join(words, " ") + "\n")
 }
 
 // texts returns the texts of values.

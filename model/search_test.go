@@ -181,6 +181,13 @@ func TestFind(t *testing.T) {
 		{[]string{"(or (p c) (= (* n 5) 3))"}, 1, 0},
 		{[]string{"(and (or (p c) (p d)) (not (and (p c) (p d))))"}, 2, 0},
 		{[]string{"(ite (p c) (p d) (not (p d)))", "(=> (p d) (not (p c)))"}, 1, 0},
+		{[]string{"(ite (p c) true false)"}, 1, 0},
+		{[]string{"(ite (p c) false true)"}, 1, 0},
+		{[]string{"(= 3 (ite (p c) 3 4))"}, 1, 0},
+		{[]string{"(= 3 (ite (p c) 4 3))"}, 1, 0},
+		{[]string{"(=> (p c) false)", "(=> true (p d))"}, 2, 0},
+		{[]string{"(=> (p c) (p d))", "(p c)", "(not (p d))"}, 0, 0},
+		{[]string{"(not (=> (p c) (p (f c))))"}, 2, 0},
 		{[]string{"(iff (p c) (not (p d)))", "(iff (p (f c)) (not (p (f d))))", "(= (f c) d)"}, 2, 0},
 	} {
 		l := readAll(t, sig, c.formulas...)
@@ -304,6 +311,10 @@ func (m *maker) closedFormula(depth int) (x api.Terms, ok bool) {
 // TestFindLimits is for P12.3: the errors that are permitted, and results where a search through all candidate models would take too long.
 func TestFindLimits(t *testing.T) {
 	great := strings.Repeat("9", 120)
+	fifty := make([]string, 0, 16) // with 0, 1 and what is beside them these are 50 elements
+	for i := range 16 {
+		fifty = append(fifty, "(not (= n "+strings.Repeat("1", i+2)+"))")
+	}
 	many := make([]string, 0, 17)
 	for i := range 17 {
 		many = append(many, "(not (= n "+strings.Repeat("1", i+2)+"))")
@@ -322,6 +333,8 @@ func TestFindLimits(t *testing.T) {
 		{ints, []string{"(= n " + great + ")"}, 1, 100, false, []api.Errno{api.OK, api.ErrLarge}},
 		{ints, []string{"(= n 1)"}, 1, 100, true, []api.Errno{api.OK}},
 		{ints, []string{"(exists ((x Int)) (= ?x " + great + "))"}, 1, 100, false, []api.Errno{api.ErrLarge}},
+		{ints, []string{"(forall ((x Int)) (= empty$Seq<Int> (cut$Seq<Int> empty$Seq<Int> ?x " + great + ")))"}, 1, 100, false, []api.Errno{api.ErrLarge}},
+		{ints, append(slices.Clone(fifty), "(exists ((x Int)) (= ?x n))"), 1, 100000, true, []api.Errno{api.OK}},
 		{ints, append(slices.Clone(many), "(exists ((x Int)) (= ?x n))"), 1, 100000, false, []api.Errno{api.ErrMany}},
 		{ints, append(slices.Clone(many), "(= n 7)"), 1, 100000, false, []api.Errno{api.OK}},
 		{ints, many, 1, 100000, true, []api.Errno{api.OK}},
@@ -352,6 +365,7 @@ func TestFindOpen(t *testing.T) {
 		"(or true (= 0 (* " + great + " (ite (= n 0) 100 1))))":                                              true,
 		"(or b (= 0 (* " + great + " (ite (= n 0) 100 1))))":                                                 true,
 		"(or (not b) (= 0 (+ (* " + great + " (ite (= n 1) 1 100)) (* " + great + " (ite (= k 1) 1 100)))))": true,
+		"(exists ((x Bool)) (or (and (not ?x) b) (and ?x (= 0 (* " + great + " (ite ?x 100 1))))))":          true, // if b is true, the error is not reached
 		"(and b (or b (= 0 (* " + great + " (ite (= n 2) 1 100)))))":                                         true,
 		"(and b (= k 3) (or b (= 0 (* " + great + " (ite (= n 7) 1 100)))))":                                 true,
 	} {

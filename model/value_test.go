@@ -247,6 +247,7 @@ func TestFirstElements(t *testing.T) {
 		sigOf("E", []string{"A = a0 a1:B | a2", "B = b0 b1:C", "C = c0 c1:A c2:E | c3"}, nil),
 		sigOf("E", []string{"T = leaf | node left:T right:T", "W = w1 w2:Set<W> | w3 w4:Map<E,W>", "Z = z1 z2:Seq<Z>"}, nil),
 		sigOf("E", []string{"P = p1 p2:Map<Q,P> | p3", "Q = q1 | q2 | q4 q5:E", "R = r1 r2:Map<Int,R> r3:Map<Q,Q> | r4 r5:Q"}, nil),
+		sigOf("E", []string{"D = r1 r2:D | d1 | d2 | d3", "Q = q1 q2:D q3:Q | q4 | q5"}, nil),
 		sigOf("E", []string{"K = k1 k2:K2 | k3", "K2 = k4 k5:K3 | k6", "K3 = k7 k8:K | k9 k10:Map<K4,E>", "K4 = k11 k12:E | k13"}, nil),
 	} {
 		for size := 1; size <= 3; size++ {
@@ -293,6 +294,10 @@ func TestZero(t *testing.T) {
 	order := sigOf("", []string{"A = a0 a1:B | a2 a3:C", "B = b0 b1:C", "C = c0"}, nil)
 	if v, e := Zero(order, "A"); shown(v) != "(a2 c0)" || e != api.OK { // in the second round only C has a zero
 		t.Errorf("Zero by rounds: %s, %d", shown(v), e)
+	}
+	long := sigOf("", []string{"A = a0 a1:B | a2", "B = b0 b1:C", "C = c0", "G = g0 g1:H", "H = h0 h1:B", "X = x0 x1:A x2:G"}, nil)
+	if v, e := Zero(long, "X"); shown(v) != "(x0 a2 (g0 (h0 (b0 c0))))" || e != api.OK { // a zero that was found stays
+		t.Errorf("Zero after many rounds: %s, %d", shown(v), e)
 	}
 	late := sigOf("", []string{"C = c0", "A = a0 a1:B | a2 a3:B a4:B", "B = b0 b1:C"}, nil)
 	if v, e := Zero(late, "A"); shown(v) != "(a0 (b0 c0))" || e != api.OK {
