@@ -176,9 +176,9 @@ func (s *search) opens(f *symbol, args []api.Value) bool {
 
 // The values of a formula, as far as it is known.
 const (
-	isOpen = iota
-	isFalse
-	isHolding
+	undecided = iota
+	refuted
+	confirmed
 )
 
 // truth returns the value of a formula, which is false where it has an error. It notes the first open result that it depends on.
@@ -187,11 +187,11 @@ func (s *search) truth(f *evaluation) int {
 	v, e := f.run()
 	switch {
 	case s.wanted != nil && (e != api.OK || isUnknown(v)):
-		return isOpen
+		return undecided
 	case e != api.OK || !isTrue(v):
-		return isFalse
+		return refuted
 	}
-	return isHolding
+	return confirmed
 }
 
 // solve reports whether there are results with which some formulas are true. All others are true already.
@@ -203,9 +203,9 @@ func (s *search) solve(formulas []*evaluation) (bool, api.Errno) {
 		switch {
 		case s.broken != api.OK:
 			return false, s.broken
-		case truth == isFalse:
+		case truth == refuted:
 			return false, s.count()
-		case truth == isOpen:
+		case truth == undecided:
 			open = append(open, f)
 			if next == nil {
 				next = s.wanted
@@ -230,7 +230,7 @@ func (s *search) count() api.Errno {
 // confirm reports whether all formulas are true if the open results are zeros. They are, unless one of them has an error there; then these results are tried, too.
 func (s *search) confirm() (bool, api.Errno) {
 	s.isOpen = nil
-	holds := !slices.ContainsFunc(s.formulas, func(f *evaluation) bool { return s.truth(f) != isHolding })
+	holds := !slices.ContainsFunc(s.formulas, func(f *evaluation) bool { return s.truth(f) != confirmed })
 	s.isOpen = s.opens
 	if holds {
 		return true, api.OK
